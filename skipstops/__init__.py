@@ -1,0 +1,1 @@
+"""Skipstops: rings of places that are a shortest trip for every choice of their stops."""

@@ -1,0 +1,53 @@
+"""Which values are of the kinds that the functions take. Every value may be asked."""
+
+LARGEST = 10 ** 30
+MOST_PLACES = 30
+
+
+def is_integer(value):
+    """Whether a value is an integer; True and False are none."""
+    return isinstance(value, int) and not isinstance(value, bool)
+
+
+def is_integer_list(value):
+    """Whether a value is a list of integers alone."""
+    return type(value) is list and all([is_integer(item) for item in value])
+
+
+def is_integer_tuple(value):
+    """Whether a value is a tuple of integers alone."""
+    return type(value) is tuple and all([is_integer(item) for item in value])
+
+
+def makes_count(value):
+    """Whether a value is a number of places."""
+    return is_integer(value) and 1 <= value <= MOST_PLACES
+
+
+def _is_row(count, value):
+    """Whether a value is a list with a distance to each of so many places."""
+    return is_integer_list(value) and len(value) == count and all([0 <= item <= LARGEST for item in value])
+
+
+def makes_table(value):
+    """Whether a value is a table."""
+    if type(value) is not list or not makes_count(len(value)):
+        return False
+    count = len(value)
+    if not all([_is_row(count, row) for row in value]):
+        return False
+    if any([value[place][place] != 0 for place in range(count)]):
+        return False
+    return all([value[one][other] == value[other][one] for one in range(count) for other in range(one)])
+
+
+def makes_stops(count, value):
+    """Whether a value is a list of one or more different ones of so many places."""
+    if not is_integer_list(value) or not value:
+        return False
+    return len(set(value)) == len(value) and all([0 <= place < count for place in value])
+
+
+def makes_ring(count, value):
+    """Whether a value is a ring of so many places."""
+    return makes_stops(count, value) and len(value) == count

@@ -1,0 +1,60 @@
+"""The form of the package: its files, what each defines, and the limits of its code that a test can see."""
+
+import ast
+import unittest
+from pathlib import Path
+
+PACKAGE = Path(__file__).resolve().parent.parent / "skipstops"
+FILES = sorted(PACKAGE.glob("*.py"))
+INTERFACE = {
+    "errors.py": ["RingError", "InvalidTable", "NotSkip", "TooLarge", "Bending", "TooLong", "InvalidText"],
+    "rings.py": ["is_table", "is_ring", "plain_ring", "are_alike", "trip_length", "around", "around_length"],
+    "amounts.py": ["cuts_of", "cut_amounts", "place_amounts", "is_skip", "bar_of", "is_bar", "heavy_cuts", "table_with"],
+    "finding.py": ["shortest_length", "has_skip", "count_skip", "nth_skip", "skip_index", "skip_ring",
+                   "sure_neighbours", "possible_neighbours", "count_trips", "nth_trip", "common_skip"],
+}
+BARRED = (ast.AsyncFunctionDef, ast.Global, ast.Import, ast.Set, ast.Div, ast.AnnAssign)
+
+
+def tree_of(path):
+    return ast.parse(path.read_text())
+
+
+class Form(unittest.TestCase):
+    def test_each_name_is_defined_in_its_file(self):
+        for name, wanted in INTERFACE.items():
+            defined = [node.name for node in tree_of(PACKAGE / name).body if hasattr(node, "name")]
+            self.assertEqual([one for one in wanted if one not in defined], [])
+
+    def test_characters_and_sizes(self):
+        self.assertTrue(FILES)
+        for path in FILES:
+            text = path.read_text()
+            lines = text.split("\n")
+            with self.subTest(path.name):
+                self.assertTrue(all(sign == "\n" or " " <= sign <= "~" for sign in text))
+                self.assertLessEqual(len(lines), 400)
+                self.assertLessEqual(max(len(line) for line in lines), 120)
+
+    def test_functions_are_short(self):
+        for path in FILES:
+            for node in ast.walk(tree_of(path)):
+                if isinstance(node, ast.FunctionDef):
+                    with self.subTest(path.name, function=node.name):
+                        self.assertLessEqual(node.end_lineno - node.lineno + 1, 40)
+
+    def test_imports_come_from_the_package_alone(self):
+        for path in FILES:
+            for node in ast.walk(tree_of(path)):
+                with self.subTest(path.name):
+                    self.assertNotIsInstance(node, BARRED)
+                    if isinstance(node, ast.ImportFrom):
+                        self.assertEqual([node.level, node.module.split(".")[0]], [0, "skipstops"])
+                        source = tree_of(PACKAGE / (node.module.split(".")[1] + ".py"))
+                        defined = [one.name for one in source.body if hasattr(one, "name")]
+                        defined += [one.targets[0].id for one in source.body if isinstance(one, ast.Assign)]
+                        self.assertEqual([one.name for one in node.names if one.name not in defined], [])
+
+
+if __name__ == "__main__":
+    unittest.main()

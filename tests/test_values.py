@@ -1,0 +1,128 @@
+"""[2]: what is passed is never changed, and what is returned is new and of the kinds that are named."""
+
+import copy
+import unittest
+
+from skipstops import amounts, finding, rings
+from tests.tools import FIVE, RING, SPLIT, exact, lists_in, zeros
+
+ZEROS_IN_ONE_LIST = [[0] * 5] * 5
+
+CALLS = [
+    (rings.is_table, [FIVE]),
+    (rings.is_ring, [5, RING]),
+    (rings.plain_ring, [RING]),
+    (rings.plain_ring, [[0]]),
+    (rings.plain_ring, [[0, 1]]),
+    (rings.plain_ring, [[3, 0, 2, 1]]),
+    (rings.are_alike, [RING, RING]),
+    (rings.trip_length, [FIVE, [4, 0, 2]]),
+    (rings.around, [RING, RING]),
+    (rings.around, [RING, [3]]),
+    (rings.around, [[4, 2, 0, 1, 3], [3, 2, 1]]),
+    (rings.around_length, [FIVE, [4, 2, 0, 1, 3], [3, 2, 1]]),
+    (amounts.cuts_of, [RING]),
+    (amounts.cuts_of, [[1, 0]]),
+    (amounts.cut_amounts, [FIVE, [4, 2, 0, 1, 3]]),
+    (amounts.place_amounts, [FIVE, [4, 2, 0, 1, 3]]),
+    (amounts.place_amounts, [[[0]], [0]]),
+    (amounts.is_skip, [FIVE, RING]),
+    (amounts.bar_of, [FIVE, [0, 2, 1, 3, 4]]),
+    (amounts.is_bar, [FIVE, [0, 2, 1, 3, 4], (0, 1, 2, 3)]),
+    (amounts.heavy_cuts, [FIVE, RING]),
+    (amounts.table_with, [[4, 2, 0, 1, 3], [2] * 5, [((1, 3), 2), ((1, 3, 4), 4)]]),
+    (amounts.table_with, [RING, [0] * 5, []]),
+    (amounts.table_with, [[0], [0], []]),
+    (amounts.table_with, [[0, 1], [5, 5], []]),
+    (finding.shortest_length, [FIVE]),
+    (finding.has_skip, [SPLIT]),
+    (finding.count_skip, [FIVE]),
+    (finding.nth_skip, [FIVE, 1]),
+    (finding.skip_index, [FIVE, [3, 4, 0, 1, 2]]),
+    (finding.skip_ring, [FIVE]),
+    (finding.skip_ring, [[[0]]]),
+    (finding.sure_neighbours, [FIVE]),
+    (finding.possible_neighbours, [FIVE]),
+    (finding.count_trips, [SPLIT, [4, 0, 2, 1]]),
+    (finding.nth_trip, [SPLIT, [4, 0, 2, 1, 3], 1]),
+    (finding.nth_trip, [SPLIT, [4], 0]),
+    (finding.common_skip, [[FIVE, ZEROS_IN_ONE_LIST, FIVE]]),
+    (finding.common_skip, [[FIVE]]),
+    (finding.skip_ring, [ZEROS_IN_ONE_LIST]),
+]
+FAILING = [
+    (amounts.heavy_cuts, [FIVE, [0, 2, 1, 3, 4]]),
+    (amounts.table_with, [RING, [1, 2, 3, 4, 5], [((1, 2), 3)]]),
+    (amounts.table_with, [RING, [2] * 5, [((2, 3), 3), ((1, 2), 3)]]),
+    (finding.nth_skip, [FIVE, 2]),
+    (finding.skip_index, [SPLIT, [0, 2, 1, 3, 4]]),
+    (finding.sure_neighbours, [SPLIT]),
+    (finding.nth_trip, [zeros(11), [*range(10, -1, -1)], 2]),
+    (rings.around, [RING, [4, 3, 4]]),
+]
+
+
+def fresh(arguments):
+    """A deep copy that keeps which lists are one."""
+    return copy.deepcopy(arguments)
+
+
+class Values(unittest.TestCase):
+    def test_no_argument_is_changed(self):
+        for function, given in CALLS:
+            arguments = fresh(given)
+            function(*arguments)
+            with self.subTest(function.__name__, given=given):
+                self.assertEqual(exact(arguments), exact(given))
+
+    def test_nor_by_a_call_that_fails(self):
+        for function, given in FAILING:
+            arguments = fresh(given)
+            with self.subTest(function.__name__, given=given):
+                self.assertRaises(ValueError, function, *arguments)
+                self.assertEqual(exact(arguments), exact(given))
+
+    def test_every_returned_list_is_new(self):
+        for function, given in CALLS:
+            arguments = fresh(given)
+            first = function(*arguments)
+            second = function(*arguments)
+            lists = lists_in(first) + lists_in(second)
+            kept = {id(one) for one in lists_in(arguments)}
+            with self.subTest(function.__name__, given=given):
+                self.assertEqual(len({id(one) for one in lists}), len(lists))
+                self.assertFalse(kept & {id(one) for one in lists})
+
+    def test_what_a_caller_does_to_a_result_changes_nothing(self):
+        for function, given in CALLS:
+            arguments = fresh(given)
+            wanted = exact(function(*arguments))
+            for one in lists_in(function(*arguments)):
+                one.append(None)
+            with self.subTest(function.__name__, given=given):
+                self.assertEqual(exact(arguments), exact(given))
+                self.assertEqual(exact(function(*arguments)), wanted)
+
+    def test_kinds(self):
+        self.assertEqual(exact(amounts.cuts_of(RING))[1][0], ("tuple", [("int", 1), ("int", 2)]))
+        pair = exact(amounts.cut_amounts(FIVE, RING))[1][0]
+        self.assertEqual(pair, ("tuple", [("tuple", [("int", 1), ("int", 2)]), ("int", 2)]))
+        self.assertEqual(exact(amounts.heavy_cuts(FIVE, RING))[1][0], pair)
+        self.assertEqual(exact(amounts.place_amounts(FIVE, RING)), ("list", [("int", 2)] * 5))
+        self.assertEqual(exact(amounts.bar_of(FIVE, [0, 2, 1, 3, 4]))[0], "tuple")
+        self.assertEqual([type(one) for one in finding.sure_neighbours(FIVE)], [tuple] * 3)
+        self.assertEqual([type(one) for one in finding.possible_neighbours(FIVE)], [tuple] * 7)
+        self.assertEqual([type(row) for row in amounts.table_with(RING, [0] * 5, [])], [list] * 5)
+        for truth in (rings.is_table(FIVE), rings.are_alike(RING, RING), amounts.is_skip(FIVE, RING)):
+            self.assertIs(truth, True)
+        self.assertEqual(exact(finding.count_skip(SPLIT)), ("int", 0))
+
+    def test_values_that_were_returned_may_be_passed_back(self):
+        great = amounts.place_amounts([[0, 10 ** 30, 10 ** 30], [10 ** 30, 0, 0], [10 ** 30, 0, 0]], [0, 1, 2])
+        self.assertEqual(great, [2 * 10 ** 30, 0, 0])
+        self.assertEqual(amounts.table_with([2, 1, 0], great, [])[0], [0, 10 ** 30, 10 ** 30])
+        self.assertEqual(finding.skip_index(FIVE, finding.nth_skip(FIVE, 1)), 1)
+
+
+if __name__ == "__main__":
+    unittest.main()

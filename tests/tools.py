@@ -1,0 +1,149 @@
+"""Tables for the tests, and the words of the document turned into slow searches."""
+
+from itertools import combinations, permutations
+
+FIVE = [[0, 3, 5, 4, 2], [3, 0, 4, 5, 3], [5, 4, 0, 3, 5], [4, 5, 3, 0, 4], [2, 3, 5, 4, 0]]
+SPLIT = [[0, 2, 1, 1, 1], [2, 0, 1, 1, 1], [1, 1, 0, 2, 2], [1, 1, 2, 0, 2], [1, 1, 2, 2, 0]]
+RING = [0, 1, 2, 3, 4]
+GREATEST = 10 ** 30
+
+
+class Numbers:
+    """A fixed sequence of numbers that look mixed."""
+
+    def __init__(self, seed):
+        self.state = seed
+
+    def below(self, limit):
+        self.state = (self.state * 6364136223846793005 + 1442695040888963407) % 2 ** 64
+        return (self.state >> 33) % limit
+
+    def mixed(self, items):
+        """A list of the items in another sequence."""
+        items = list(items)
+        return [items.pop(self.below(len(items))) for _ in range(len(items))]
+
+
+def zeros(count):
+    return [[0] * count for _ in range(count)]
+
+
+def any_table(numbers, count, limit):
+    """A table with distances below a limit."""
+    table = zeros(count)
+    for one, other in combinations(range(count), 2):
+        table[one][other] = table[other][one] = numbers.below(limit)
+    return table
+
+
+def ring_sides(ring):
+    """For each cut of a ring, found by its words: the tuple of the places on the side without 0."""
+    count = len(ring)
+    doubled = ring + ring
+    sides = set()
+    for size in range(2, count - 1):
+        for start in range(count):
+            row = doubled[start:start + size]
+            if 0 not in row:
+                sides.add(tuple(sorted(row)))
+    return sorted(sides)
+
+
+def skip_table(numbers, ring, heavy, limit=4):
+    """A table for which a ring is a skip ring, with so many cuts drawn to have amounts, all even."""
+    count = len(ring)
+    table = zeros(count)
+    base = [numbers.below(3) for _ in range(count)]
+    sides = ring_sides(ring)
+    drawn = [(sides[numbers.below(len(sides))], 1 + numbers.below(limit)) for _ in range(heavy if sides else 0)]
+    for one, other in combinations(range(count), 2):
+        parted = sum(amount for side, amount in drawn if (one in side) != (other in side))
+        table[one][other] = table[other][one] = base[one] + base[other] + parted
+    return table
+
+
+def drawn_tables(seed, sizes, many):
+    """Tables of several sizes: any ones, and ones that have skip rings."""
+    numbers = Numbers(seed)
+    tables = []
+    for count in sizes:
+        for _ in range(many):
+            tables.append(any_table(numbers, count, 3))
+            tables.append(any_table(numbers, count, 10))
+            tables.append(skip_table(numbers, numbers.mixed(range(count)), numbers.below(2 * count)))
+    return tables
+
+
+def closed_length(table, trip):
+    """The length of a trip, step by step."""
+    total = 0
+    for at in range(len(trip)):
+        total += table[trip[at]][trip[(at + 1) % len(trip)]]
+    return total
+
+
+def plain_trips(stops):
+    """All plain trips through some stops, ascending."""
+    first, *others = sorted(stops)
+    trips = [[first, *rest] for rest in permutations(others)]
+    return [trip for trip in trips if len(trip) < 3 or trip[1] < trip[-1]]
+
+
+def plain_rings(count):
+    return plain_trips(range(count))
+
+
+def in_ring_sequence(ring, stops):
+    return [place for place in ring if place in stops]
+
+
+def barred_by(table, ring, stops):
+    """Whether some trip through the stops is shorter than the one round the ring."""
+    limit = closed_length(table, in_ring_sequence(ring, stops))
+    return any(closed_length(table, trip) < limit for trip in plain_trips(stops))
+
+
+def skips_by_words(table, ring):
+    """Whether no set of stops has a shorter trip than the one round the ring."""
+    places = range(len(table))
+    return not any(barred_by(table, ring, stops) for size in places for stops in combinations(places, size + 1))
+
+
+def bars_by_words(table, ring):
+    """All bars of a ring."""
+    return [stops for stops in combinations(range(len(table)), 4) if barred_by(table, ring, stops)]
+
+
+def rings_by_words(table):
+    """All plain skip rings of a table, ascending."""
+    return [ring for ring in plain_rings(len(table)) if skips_by_words(table, ring)]
+
+
+def shortest_by_words(table, stops):
+    """All shortest plain trips through some stops, ascending."""
+    trips = plain_trips(stops)
+    least = min(closed_length(table, trip) for trip in trips)
+    return [trip for trip in trips if closed_length(table, trip) == least]
+
+
+def beside(ring):
+    """The set of the pairs of places that stand side by side on a ring."""
+    pairs = [tuple(sorted((ring[at - 1], ring[at]))) for at in range(len(ring))]
+    return {pair for pair in pairs if pair[0] != pair[1]}
+
+
+def exact(value):
+    """A value with the kinds of all its parts, so that True is told from 1."""
+    if isinstance(value, (list, tuple)):
+        return (type(value).__name__, [exact(item) for item in value])
+    return (type(value).__name__, value)
+
+
+def lists_in(value):
+    """All lists in a value of lists and tuples, itself included, as often as they occur."""
+    if not isinstance(value, (list, tuple)):
+        return []
+    found = [value] if isinstance(value, list) else []
+    for item in value:
+        found += lists_in(item)
+    return found
