@@ -1,7 +1,7 @@
 """The cuts of a ring, and the amounts of places and cuts."""
 
 from skipstops.checks import check_amounts, check_any_ring, check_ring, check_table
-from skipstops.cutting import check_skip, corner_amount, cut_corners, first_bar, goes_skip
+from skipstops.cutting import check_skip, corner_amount, cut_corners, first_bar, goes_skip, own_amounts
 from skipstops.errors import InvalidCuts, NoTable
 from skipstops.kinds import LARGEST, is_integer, is_integer_tuple, makes_stops
 from skipstops.trips import round_length, trip_around
@@ -24,15 +24,7 @@ def place_amounts(table, ring):
     """The list of the amounts of the places."""
     check_table(table)
     check_ring(ring, len(table))
-    count = len(ring)
-    if count < 3:
-        # One place has 0, two places both have their distance: the greatest entry of their row.
-        return [max(row) for row in table]
-    amounts = [0] * count
-    for at in range(count):
-        behind, place, ahead = ring[at - 1], ring[at], ring[at + 1 - count]
-        amounts[place] = table[place][behind] + table[place][ahead] - table[behind][ahead]
-    return amounts
+    return own_amounts(table, ring)
 
 
 def is_skip(table, ring):

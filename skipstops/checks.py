@@ -1,8 +1,10 @@
 """The errors of parameters: each check returns nothing, or raises the error of its parameter."""
 
-from skipstops.errors import InvalidAmounts, InvalidCount, InvalidIndex, InvalidRing, InvalidStops
-from skipstops.errors import InvalidTable, InvalidTables, InvalidTrip, TooLarge
-from skipstops.kinds import is_integer, is_integer_list, makes_count, makes_ring, makes_stops, makes_table
+from skipstops.errors import InvalidAmounts, InvalidCount, InvalidIndex, InvalidNumber, InvalidPlace, InvalidPrizes
+from skipstops.errors import InvalidRing, InvalidRow, InvalidSequence, InvalidStops, InvalidTable, InvalidTables
+from skipstops.errors import InvalidTrip, TooLarge
+from skipstops.kinds import is_integer, is_integer_list, makes_count, makes_group, makes_place, makes_ring, makes_row
+from skipstops.kinds import makes_stops, makes_table
 
 MOST_TABLES = 6
 
@@ -52,6 +54,56 @@ def check_trip(trip, count):
     """InvalidTrip unless it is a trip through some of so many places."""
     if not makes_stops(count, trip):
         raise InvalidTrip("a trip must be a list of one or more different places")
+
+
+def check_place(place, count):
+    """InvalidPlace unless it is one of so many places."""
+    if not makes_place(count, place):
+        raise InvalidPlace("a place must be an integer from 0 on, less than the number of places")
+
+
+def check_two_places(one, other, count):
+    """InvalidPlace unless they are two different ones of so many places."""
+    check_place(one, count)
+    check_place(other, count)
+    if other == one:
+        raise InvalidPlace("the other place must be another one")
+
+
+def check_group(group, depot, count):
+    """InvalidStops unless they are different ones of so many places without the depot, perhaps none."""
+    if not makes_group(count, depot, group):
+        raise InvalidStops("a group must be a list of different places without the depot")
+
+
+def check_sequence(sequence, depot, count):
+    """InvalidSequence unless they are all of so many places but the depot, each once."""
+    if not makes_group(count, depot, sequence) or len(sequence) != count - 1:
+        raise InvalidSequence("a sequence must be a list of all places but the depot, each once")
+
+
+def check_many(many, count):
+    """InvalidNumber unless it is an integer from 1 to the number of the places."""
+    if not is_integer(many) or not 1 <= many <= count:
+        raise InvalidNumber("there must be an integer from 1 to the number of places")
+
+
+def check_length(length):
+    """InvalidNumber unless it is an integer from 0 on."""
+    if not is_integer(length) or length < 0:
+        raise InvalidNumber("a length must be an integer from 0 on")
+
+
+def check_prizes(prizes, count):
+    """InvalidPrizes unless they are an integer from 0 to 10 ** 30 for each of so many places."""
+    if not makes_row(count, prizes):
+        raise InvalidPrizes("prizes must be a list with an integer from 0 to 10 ** 30 for each place")
+
+
+def check_row(row, count):
+    """InvalidRow unless it is a distance to each of so many places."""
+    if not makes_row(count, row):
+        raise InvalidRow("a row must be a list with an integer from 0 to 10 ** 30 for each place")
 
 
 def check_index(index):

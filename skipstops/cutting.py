@@ -28,6 +28,37 @@ def corner_amount(table, corners):
     return table[w][y] + table[x][z] - table[x][y] - table[w][z]
 
 
+def row_amounts(table, row):
+    """The list of (first, last, amount) of all cuts, the row being a ring begun at any place.
+
+    The side without this place goes from row[first] to row[last].
+    """
+    count = len(row)
+    closed = row + row[:1]
+    found = []
+    for first in range(1, count):
+        behind, begun = table[row[first - 1]], table[row[first]]
+        nearer = [behind[place] - begun[place] for place in closed]
+        for last in range(first + 1, count):
+            # The other side has two places or more, too.
+            if last - first < count - 2:
+                found.append((first, last, nearer[last] - nearer[last + 1]))
+    return found
+
+
+def own_amounts(table, ring):
+    """The list of the amounts of the places."""
+    count = len(ring)
+    if count < 3:
+        # One place has 0, two places both have their distance: the greatest entry of their row.
+        return [max(row) for row in table]
+    amounts = [0] * count
+    for at in range(count):
+        behind, place, ahead = ring[at - 1], ring[at], ring[at + 1 - count]
+        amounts[place] = table[place][behind] + table[place][ahead] - table[behind][ahead]
+    return amounts
+
+
 def first_bar(table, ring):
     """A bar of the ring, None if it is a skip ring."""
     for cut, corners in cut_corners(ring):

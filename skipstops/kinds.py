@@ -24,8 +24,13 @@ def makes_count(value):
     return is_integer(value) and 1 <= value <= MOST_PLACES
 
 
-def _is_row(count, value):
-    """Whether a value is a list with a distance to each of so many places."""
+def makes_place(count, value):
+    """Whether a value is one of so many places."""
+    return is_integer(value) and 0 <= value < count
+
+
+def makes_row(count, value):
+    """Whether a value is a list with an integer from 0 to the greatest distance for each of so many places."""
     return is_integer_list(value) and len(value) == count and all([0 <= item <= LARGEST for item in value])
 
 
@@ -34,7 +39,7 @@ def makes_table(value):
     if type(value) is not list or not makes_count(len(value)):
         return False
     count = len(value)
-    if not all([_is_row(count, row) for row in value]):
+    if not all([makes_row(count, row) for row in value]):
         return False
     if any([value[place][place] != 0 for place in range(count)]):
         return False
@@ -51,3 +56,24 @@ def makes_stops(count, value):
 def makes_ring(count, value):
     """Whether a value is a ring of so many places."""
     return makes_stops(count, value) and len(value) == count
+
+
+def makes_group(count, depot, value):
+    """Whether a value is a list of different ones of so many places without the depot, perhaps empty."""
+    if type(value) is not list:
+        return False
+    return not value or (makes_stops(count, value) and depot not in value)
+
+
+def makes_pairs(stops, value):
+    """Whether a value is an ascending list of tuples of two places, the lesser one first, each stop in exactly one."""
+    if type(value) is not list or not all([is_integer_tuple(pair) and len(pair) == 2 for pair in value]):
+        return False
+    if sorted([place for pair in value for place in pair]) != sorted(stops):
+        return False
+    return all([one < other for one, other in value]) and value == sorted(value)
+
+
+def makes_fraction(value):
+    """Whether a value is a tuple of two integers, the second one from 1 on."""
+    return is_integer_tuple(value) and len(value) == 2 and value[1] >= 1

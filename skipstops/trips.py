@@ -9,9 +9,20 @@ def plain_trip(trip):
     return min(forth, back)
 
 
+def begun_at(ring, place):
+    """The ring, begun at a place."""
+    start = ring.index(place)
+    return ring[start:] + ring[:start]
+
+
+def met_round(ring, stops):
+    """Some stops in the sequence of a ring."""
+    return [place for place in ring if place in stops]
+
+
 def trip_around(ring, stops):
     """The trip round a ring through some stops."""
-    return plain_trip([place for place in ring if place in stops])
+    return plain_trip(met_round(ring, stops))
 
 
 def round_length(table, trip):

@@ -32,6 +32,34 @@ EXAMPLES = {
 >>> [nth_trip(split, [0, 1, 2, 3], 0), count_trips(five, [4, 2]), common_skip([five, [[0] * 5] * 5]), common_skip([five, split])]
 [[0, 2, 1, 3], 1, [0, 1, 2, 3, 4], None]
 """,
+    "[19]": """
+>>> from skipstops.far import far_trip, greatest_sum, least_sum, longest_length, opposite_pairs, shows_far
+>>> [opposite_pairs(ring, [0, 1, 2, 3]), greatest_sum(five, ring, [0, 1, 2, 3]), least_sum(five, ring, [0, 1, 2, 3])]
+[[(0, 2), (1, 3)], 10, 6]
+>>> [far_trip(ring, ring), longest_length(five, ring, ring), far_trip(ring, [4]), shows_far(five, ring, [0, 1, 2, 3], [(0, 3), (1, 2)])]
+[[0, 2, 4, 1, 3], 22, [4], False]
+""",
+    "[20]": """
+>>> from skipstops.choosing import adds, best_prizes, cheapest_stops, dearest_stops, most_stops
+>>> [cheapest_stops(five, ring, 3), dearest_stops(five, ring, 3), best_prizes(five, ring, [9, 0, 0, 9, 9]), most_stops(five, ring, 11), adds(five, ring, [0, 4], 1)]
+[(8, [0, 1, 4]), (12, [0, 1, 2]), (17, [0, 3, 4]), (3, [0, 1, 4]), 4]
+""",
+    "[21]": """
+>>> from skipstops.shares import bending, costs, even_steps, fair_shares, limits, pays_beyond, shares_by
+>>> [costs(five, ring, 0, [2, 1]), costs(five, ring, 0, []), fair_shares(five, ring, 0), shares_by(five, ring, 0, [2, 1, 3, 4])]
+[12, 0, [(0, 1), (7, 2), (11, 2), (9, 2), (5, 2)], [0, 2, 10, 2, 2]]
+>>> [bending(five, ring, 0), pays_beyond(five, ring, 0, fair_shares(five, ring, 0)), limits(five, ring, 0, [2]), even_steps(five, ring, 0)]
+[None, None, (2, 10), [((4, 1), [1, 2, 3, 4])]]
+>>> pays_beyond(five, ring, 0, [(0, 1), (4, 1), (4, 1), (2, 1), (6, 1)])[1]
+(2, 1)
+""",
+    "[22]": """
+>>> from skipstops.changes import grown, left_out, new_spots, ring_without, shrunk, slack
+>>> [slack(five, ring, 0, 2), slack(five, ring, 3, 2), new_spots(five, ring, [2, 3, 5, 4, 2]), left_out(five, [0, 2, 1, 3, 4]), left_out(five, ring)]
+[(5, 5), (0, 7), [0, 3, 4], [1], []]
+>>> [grown([[0, 4], [4, 0]], [1, 2]), shrunk(five, 1)[0], ring_without([0, 3, 1, 2], 1)]
+[[[0, 4, 1], [4, 0, 2], [1, 2, 0]], [0, 5, 4, 2], [0, 2, 1]]
+""",
 }
 
 
@@ -52,6 +80,18 @@ class Examples(unittest.TestCase):
 
     def test_finding(self):
         self.check("[18]")
+
+    def test_far(self):
+        self.check("[19]")
+
+    def test_choosing(self):
+        self.check("[20]")
+
+    def test_shares(self):
+        self.check("[21]")
+
+    def test_changes(self):
+        self.check("[22]")
 
 
 if __name__ == "__main__":

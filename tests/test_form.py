@@ -12,7 +12,12 @@ INTERFACE = {
     "amounts.py": ["cuts_of", "cut_amounts", "place_amounts", "is_skip", "bar_of", "is_bar", "heavy_cuts", "table_with"],
     "finding.py": ["shortest_length", "has_skip", "count_skip", "nth_skip", "skip_index", "skip_ring",
                    "sure_neighbours", "possible_neighbours", "count_trips", "nth_trip", "common_skip"],
+    "far.py": ["opposite_pairs", "far_trip", "greatest_sum", "least_sum", "longest_length", "shows_far"],
+    "choosing.py": ["cheapest_stops", "dearest_stops", "best_prizes", "most_stops", "adds"],
+    "shares.py": ["costs", "fair_shares", "shares_by", "bending", "pays_beyond", "limits", "even_steps"],
+    "changes.py": ["slack", "grown", "shrunk", "ring_without", "new_spots", "left_out"],
 }
+LIBRARY = {"math": ["gcd", "lcm"], "itertools": ["combinations"]}
 BARRED = (ast.AsyncFunctionDef, ast.Global, ast.Import, ast.Set, ast.Div, ast.AnnAssign)
 
 
@@ -43,17 +48,22 @@ class Form(unittest.TestCase):
                     with self.subTest(path.name, function=node.name):
                         self.assertLessEqual(node.end_lineno - node.lineno + 1, 40)
 
-    def test_imports_come_from_the_package_alone(self):
+    def test_imports_come_from_the_files_that_define_them(self):
         for path in FILES:
             for node in ast.walk(tree_of(path)):
                 with self.subTest(path.name):
                     self.assertNotIsInstance(node, BARRED)
                     if isinstance(node, ast.ImportFrom):
-                        self.assertEqual([node.level, node.module.split(".")[0]], [0, "skipstops"])
-                        source = tree_of(PACKAGE / (node.module.split(".")[1] + ".py"))
-                        defined = [one.name for one in source.body if hasattr(one, "name")]
-                        defined += [one.targets[0].id for one in source.body if isinstance(one, ast.Assign)]
+                        self.assertEqual([one.asname for one in node.names if one.asname], [])
+                        defined = LIBRARY.get(node.module) or self.defined_in(node)
                         self.assertEqual([one.name for one in node.names if one.name not in defined], [])
+
+    def defined_in(self, node):
+        """The names that the module of the package from which a line imports defines itself."""
+        self.assertEqual([node.level, node.module.split(".")[0]], [0, "skipstops"])
+        source = tree_of(PACKAGE / (node.module.split(".")[1] + ".py"))
+        defined = [one.name for one in source.body if hasattr(one, "name")]
+        return defined + [one.targets[0].id for one in source.body if isinstance(one, ast.Assign)]
 
 
 if __name__ == "__main__":

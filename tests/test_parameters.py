@@ -3,7 +3,7 @@
 import inspect
 import unittest
 
-from skipstops import amounts, errors, finding, rings
+from skipstops import amounts, changes, choosing, errors, far, finding, rings, shares
 from tests.tools import FIVE, GREATEST, RING, SPLIT, zeros
 
 NO_LISTS = [None, True, False, 0, 1, -1, "", "01234", b"01234", (), {}, {0: 0}, set(), object()]
@@ -29,6 +29,20 @@ WRONG = {
                             [((1, 2, 3, 4), 2)], [((2, 3), 2), ((1, 2), 2)], [((1, 2), 2), ((1, 2), 2)], [(None, 2)],
                             [(([1], 2), 2)], [((1, 2), 2), ((1, 2), 4)], [((1, 2), 2), None], [12], [(12, 2)], {}, set()],
 }
+NO_ROWS = NO_LISTS + [[], [0] * 4, [0] * 6, [0, 0, 0, 0, True], [False, 0, 0, 0, 0], [0, 0, -1, 0, 0], [0, 0, 0, 0, BEYOND],
+                      [0, 0, None, 0, 0], ["0"] * 5, (0,) * 5, [[0]] * 5, [(0,)] * 5]
+WRONG["place"] = NO_INTEGERS + [-1, 5, 10 ** 59, -5]
+WRONG["one"] = WRONG["depot"] = WRONG["place"]
+WRONG["other"] = WRONG["place"] + [3]
+WRONG["many"] = NO_INTEGERS + [0, -1, 6, 10 ** 59]
+WRONG["length"] = NO_INTEGERS + [-1, -10 ** 59]
+WRONG["prizes"] = WRONG["row"] = NO_ROWS
+WRONG["group"] = NO_LISTS + NO_PLACES[1:] + [(0, 1), {0, 1}, [2], [0, 1, 2], [0, True]]
+WRONG["sequence"] = NO_LISTS + NO_PLACES + [RING, [0, 1, 3], [0, 1, 3, 4, 0], (0, 1, 3, 4), [0, 1, 2, 3], [0, True, 3, 4]]
+WRONG["shares"] = NO_LISTS + [[], [(0, 1)] * 5, [(4, 1), (4, 1), (0, 1), (4, 1), (4, 0)], [(4, 1), (4, 1), (0, 1), (4, 1)],
+                              [(4, 1), (4, 1), (0, 1), (4, 1), (4, True)], [(4, 1), (4, 1), (0, 1), (4, 1), 4],
+                              [(0, 1), (4, 1), (4, 1), (4, 1), (4, 1)], [(4, 1), (4, 1), (False, 1), (4, 1), (4, 1)],
+                              [[4, 1], (4, 1), (0, 1), (4, 1), (4, 1)], [(4, 1), (4, 1), (0, 1), (4, 1), (9, 2)]]
 # A ring that no parameter stands ahead of may have any number of places from 1 to 30.
 WRONG["free ring"] = [value for value in WRONG["ring"] if value not in ([0, 1, 2, 3], [0, 1, 2, 3, 4, 5])]
 WRONG["free ring"] += [list(range(31)), [1, 2, 3], [0, 2]]
@@ -38,10 +52,18 @@ ERRORS = {
     "ring": errors.InvalidRing, "free ring": errors.InvalidRing, "other_ring": errors.InvalidRing,
     "stops": errors.InvalidStops, "trip": errors.InvalidTrip, "index": errors.InvalidIndex,
     "amounts": errors.InvalidAmounts, "cuts": errors.InvalidCuts,
+    "place": errors.InvalidPlace, "one": errors.InvalidPlace, "other": errors.InvalidPlace, "depot": errors.InvalidPlace,
+    "many": errors.InvalidNumber, "length": errors.InvalidNumber, "prizes": errors.InvalidPrizes,
+    "row": errors.InvalidRow, "group": errors.InvalidStops, "sequence": errors.InvalidSequence,
+    "shares": errors.InvalidShares, "even stops": errors.InvalidStops, "odd stops": errors.InvalidStops,
 }
+WRONG["even stops"] = WRONG["odd stops"] = WRONG["stops"]
 GOOD = {
     "count": 5, "table": FIVE, "tables": [FIVE, FIVE], "ring": RING, "free ring": RING, "other_ring": [3, 1, 2, 0, 4],
     "stops": [3, 0], "trip": [3, 0], "index": 0, "amounts": [2] * 5, "cuts": [((1, 2), 2)], "value": RING,
+    "place": 2, "one": 3, "other": 0, "depot": 2, "many": 3, "length": 11, "prizes": [9, 0, 0, 9, 9],
+    "row": [2, 3, 5, 4, 2], "group": [4, 1], "sequence": [4, 0, 1, 3],
+    "shares": [(4, 1), (8, 2), (0, 5), (7, 2), (9, 2)], "even stops": [3, 0], "odd stops": [3, 0, 2],
 }
 FUNCTIONS = [
     (rings.is_table, ["value"]),
@@ -70,7 +92,37 @@ FUNCTIONS = [
     (finding.count_trips, ["table", "stops"]),
     (finding.nth_trip, ["table", "stops", "index"]),
     (finding.common_skip, ["tables"]),
+    (far.opposite_pairs, ["free ring", "even stops"]),
+    (far.far_trip, ["free ring", "odd stops"]),
+    (far.greatest_sum, ["table", "ring", "even stops"]),
+    (far.least_sum, ["table", "ring", "even stops"]),
+    (far.longest_length, ["table", "ring", "odd stops"]),
+    (far.shows_far, ["table", "ring", "stops", "value"]),
+    (choosing.cheapest_stops, ["table", "ring", "many"]),
+    (choosing.dearest_stops, ["table", "ring", "many"]),
+    (choosing.best_prizes, ["table", "ring", "prizes"]),
+    (choosing.most_stops, ["table", "ring", "length"]),
+    (choosing.adds, ["table", "ring", "stops", "place"]),
+    (shares.costs, ["table", "ring", "depot", "group"]),
+    (shares.fair_shares, ["table", "ring", "depot"]),
+    (shares.shares_by, ["table", "ring", "depot", "sequence"]),
+    (shares.bending, ["table", "ring", "depot"]),
+    (shares.pays_beyond, ["table", "ring", "depot", "shares"]),
+    (shares.limits, ["table", "ring", "depot", "group"]),
+    (shares.even_steps, ["table", "ring", "depot"]),
+    (changes.slack, ["table", "ring", "one", "other"]),
+    (changes.grown, ["table", "row"]),
+    (changes.shrunk, ["table", "place"]),
+    (changes.ring_without, ["free ring", "place"]),
+    (changes.new_spots, ["table", "ring", "row"]),
+    (changes.left_out, ["table", "ring"]),
 ]
+# Those that want a skip ring.
+SKIPS = [far.greatest_sum, far.least_sum, far.longest_length, far.shows_far, choosing.cheapest_stops,
+         choosing.dearest_stops, choosing.best_prizes, choosing.most_stops, choosing.adds, shares.costs,
+         shares.fair_shares, shares.shares_by, shares.bending, shares.pays_beyond, shares.limits, shares.even_steps,
+         changes.slack, changes.new_spots, amounts.heavy_cuts, finding.skip_index]
+NO_SKIP = [0, 2, 1, 3, 4]
 
 
 def plain_name(kind):
@@ -111,12 +163,30 @@ class Parameters(unittest.TestCase):
                         with self.subTest(function.__name__, kind=kind, wrong=wrong, behind=behind):
                             self.assertIs(self.raised(function, arguments), ERRORS[kind])
 
+    def test_wrong_parameters_come_ahead_of_not_skip(self):
+        for function, kinds in FUNCTIONS:
+            if function in SKIPS:
+                arguments = [GOOD[kind] for kind in kinds]
+                arguments[1] = NO_SKIP
+                if "shares" in kinds:
+                    # Their sum is to be the length of the trip through all places, also here.
+                    arguments[3] = [(4, 1), (8, 2), (0, 5), (7, 2), (17, 2)]
+                with self.subTest(function.__name__):
+                    self.assertIs(self.raised(function, arguments), errors.NotSkip)
+                for at, kind in enumerate(kinds[2:], 2):
+                    for wrong in WRONG.get(kind, []):
+                        with self.subTest(function.__name__, kind=kind, wrong=wrong):
+                            self.assertIs(self.raised(function, arguments[:at] + [wrong] + arguments[at + 1:]), ERRORS[kind])
+
     def test_any_value_raises_nothing(self):
         values = NO_LISTS + NO_INTEGERS + NO_PLACES + WRONG["table"] + WRONG["cuts"]
         for value in values:
             self.assertIs(rings.is_table(value), False)
             self.assertIs(rings.is_ring(5, value), False)
             self.assertIs(amounts.is_bar(FIVE, [0, 2, 1, 3, 4], value), False)
+            self.assertIs(far.shows_far(FIVE, RING, [0, 1], value), False)
+            if value != [5]:
+                self.assertIs(far.shows_far(FIVE, RING, [0, 1, 2], value), False)
 
     def test_rings_of_the_wrong_size(self):
         for ring in ([0], [0, 1, 2, 3], [0, 1, 2, 3, 4, 5]):
@@ -165,6 +235,24 @@ class OtherErrors(unittest.TestCase):
         self.assertRaises(errors.InvalidTables, finding.common_skip, [zeros(11), zeros(12)])
         self.assertRaises(errors.InvalidStops, finding.count_trips, zeros(11), list(range(12)))
         self.assertRaises(errors.InvalidStops, finding.nth_trip, zeros(11), [*range(11), 0], 0)
+
+    def test_not_skip_then_the_others(self):
+        self.assertRaises(errors.NotSkip, far.greatest_sum, FIVE, NO_SKIP, [0])
+        self.assertRaises(errors.NotSkip, far.least_sum, FIVE, NO_SKIP, [0])
+        self.assertRaises(errors.NotSkip, far.longest_length, FIVE, NO_SKIP, [0, 1])
+        self.assertRaises(errors.OddStops, far.greatest_sum, FIVE, RING, [0])
+        self.assertRaises(errors.InvalidStops, far.opposite_pairs, RING, [0, 1, 5])
+        self.assertRaises(errors.InvalidStops, far.far_trip, RING, [0, 5])
+        bad = zeros(30)
+        bad[0][1] = bad[1][0] = 1
+        self.assertRaises(errors.NotSkip, changes.new_spots, bad, list(range(30)), [0] * 30)
+        self.assertRaises(errors.TooLarge, changes.new_spots, zeros(30), list(range(30)), [0] * 30)
+
+    def test_last_place_comes_behind_the_place(self):
+        self.assertRaises(errors.InvalidPlace, changes.shrunk, [[0]], 1)
+        self.assertRaises(errors.InvalidPlace, changes.ring_without, [0], False)
+        self.assertRaises(errors.LastPlace, changes.shrunk, [[0]], 0)
+        self.assertRaises(errors.LastPlace, changes.ring_without, [0], 0)
 
     def test_no_table_comes_last(self):
         self.assertRaises(errors.InvalidCuts, amounts.table_with, RING, [1, 0, 0, 0, 0], [((1, 3), 2)])

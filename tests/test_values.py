@@ -3,7 +3,7 @@
 import copy
 import unittest
 
-from skipstops import amounts, finding, rings
+from skipstops import amounts, changes, choosing, far, finding, rings, shares
 from tests.tools import FIVE, RING, SPLIT, exact, lists_in, zeros
 
 ZEROS_IN_ONE_LIST = [[0] * 5] * 5
@@ -49,6 +49,42 @@ CALLS = [
     (finding.common_skip, [[FIVE, ZEROS_IN_ONE_LIST, FIVE]]),
     (finding.common_skip, [[FIVE]]),
     (finding.skip_ring, [ZEROS_IN_ONE_LIST]),
+    (far.opposite_pairs, [[3, 4, 0, 1, 2], [4, 1, 0, 2]]),
+    (far.far_trip, [[3, 4, 0, 1, 2], [3, 4, 0, 1, 2]]),
+    (far.far_trip, [[0], [0]]),
+    (far.greatest_sum, [FIVE, [3, 4, 0, 1, 2], [4, 1, 0, 2]]),
+    (far.least_sum, [FIVE, [3, 4, 0, 1, 2], [4, 1, 0, 2]]),
+    (far.longest_length, [FIVE, [3, 4, 0, 1, 2], [4, 1, 0]]),
+    (far.shows_far, [FIVE, RING, [4, 1, 0, 2], [(0, 2), (1, 4)]]),
+    (far.shows_far, [FIVE, RING, [4, 1, 0], [4, 1, 0]]),
+    (choosing.cheapest_stops, [FIVE, [3, 4, 0, 1, 2], 3]),
+    (choosing.cheapest_stops, [FIVE, [3, 4, 0, 1, 2], 5]),
+    (choosing.dearest_stops, [FIVE, [3, 4, 0, 1, 2], 3]),
+    (choosing.best_prizes, [FIVE, [3, 4, 0, 1, 2], [9, 0, 0, 9, 9]]),
+    (choosing.best_prizes, [ZEROS_IN_ONE_LIST, RING, [0, 0, 0, 0, 0]]),
+    (choosing.most_stops, [FIVE, [3, 4, 0, 1, 2], 11]),
+    (choosing.most_stops, [[[0]], [0], 0]),
+    (choosing.adds, [FIVE, [3, 4, 0, 1, 2], [4, 0], 1]),
+    (shares.costs, [FIVE, [3, 4, 0, 1, 2], 3, [4, 0]]),
+    (shares.fair_shares, [FIVE, [3, 4, 0, 1, 2], 3]),
+    (shares.fair_shares, [[[0]], [0], 0]),
+    (shares.shares_by, [FIVE, [3, 4, 0, 1, 2], 3, [4, 0, 2, 1]]),
+    (shares.bending, [FIVE, [3, 4, 0, 1, 2], 3]),
+    (shares.pays_beyond, [FIVE, RING, 0, [(0, 3), (4, 1), (8, 2), (2, 1), (6, 1)]]),
+    (shares.pays_beyond, [FIVE, RING, 0, [(0, 1), (7, 2), (11, 2), (9, 2), (5, 2)]]),
+    (shares.limits, [FIVE, [3, 4, 0, 1, 2], 3, [4, 0]]),
+    (shares.even_steps, [FIVE, [3, 4, 0, 1, 2], 3]),
+    (shares.even_steps, [[[0, 4, 6], [4, 0, 10], [6, 10, 0]], [2, 0, 1], 0]),
+    (shares.even_steps, [[[0]], [0], 0]),
+    (changes.slack, [FIVE, [3, 4, 0, 1, 2], 3, 0]),
+    (changes.grown, [FIVE, [3, 4, 0, 1, 2]]),
+    (changes.grown, [ZEROS_IN_ONE_LIST, [3, 4, 0, 1, 2]]),
+    (changes.shrunk, [FIVE, 0]),
+    (changes.shrunk, [ZEROS_IN_ONE_LIST, 3]),
+    (changes.ring_without, [[3, 4, 0, 1, 2], 2]),
+    (changes.new_spots, [FIVE, [3, 4, 0, 1, 2], [2, 3, 5, 4, 2]]),
+    (changes.left_out, [FIVE, [3, 4, 0, 2, 1]]),
+    (changes.left_out, [FIVE, RING]),
 ]
 FAILING = [
     (amounts.heavy_cuts, [FIVE, [0, 2, 1, 3, 4]]),
@@ -59,6 +95,19 @@ FAILING = [
     (finding.sure_neighbours, [SPLIT]),
     (finding.nth_trip, [zeros(11), [*range(10, -1, -1)], 2]),
     (rings.around, [RING, [4, 3, 4]]),
+    (far.greatest_sum, [FIVE, RING, [4, 2, 0]]),
+    (far.far_trip, [RING, [4, 2]]),
+    (choosing.best_prizes, [SPLIT, RING, [9, 8, 7, 6, 5]]),
+    (choosing.most_stops, [FIVE, [0, 2, 1, 3, 4], 11]),
+    (shares.shares_by, [FIVE, RING, 0, [4, 2, 1, 2]]),
+    (shares.pays_beyond, [FIVE, RING, 0, [(0, 3), (4, 1), (8, 2), (2, 1), (7, 1)]]),
+    (shares.even_steps, [[[0, 1, 1], [1, 0, 9], [1, 9, 0]], [2, 0, 1], 0]),
+    (shares.limits, [[[0, 1, 1], [1, 0, 9], [1, 9, 0]], [2, 0, 1], 0, [2, 1]]),
+    (changes.grown, [zeros(30), [3] * 30]),
+    (changes.new_spots, [zeros(30), [*range(29, -1, -1)], [3] * 30]),
+    (changes.shrunk, [[[0]], 0]),
+    (changes.ring_without, [[0], 0]),
+    (changes.left_out, [zeros(11), [*range(10, -1, -1)]]),
 ]
 
 
@@ -117,11 +166,33 @@ class Values(unittest.TestCase):
             self.assertIs(truth, True)
         self.assertEqual(exact(finding.count_skip(SPLIT)), ("int", 0))
 
+    def test_kinds_of_what_is_chosen_or_shared(self):
+        integers = ("list", [("int", 0), ("int", 1), ("int", 4)])
+        self.assertEqual(exact(choosing.cheapest_stops(FIVE, RING, 3)), ("tuple", [("int", 8), integers]))
+        self.assertEqual(exact(choosing.most_stops(FIVE, RING, 11)), ("tuple", [("int", 3), integers]))
+        self.assertEqual(exact(choosing.best_prizes(FIVE, RING, [0] * 5)), ("tuple", [("int", 0), ("list", [])]))
+        self.assertEqual(exact(far.opposite_pairs(RING, [3, 1])), ("list", [("tuple", [("int", 1), ("int", 3)])]))
+        self.assertEqual(exact(shares.fair_shares(FIVE, RING, 0))[1][1], ("tuple", [("int", 7), ("int", 2)]))
+        steps = exact(shares.even_steps(FIVE, RING, 0))
+        self.assertEqual(steps[1][0][1][0], ("tuple", [("int", 4), ("int", 1)]))
+        self.assertEqual([steps[0], steps[1][0][0], steps[1][0][1][1][0]], ["list", "tuple", "list"])
+        self.assertEqual(exact(changes.slack([[0, 4], [4, 0]], [0, 1], 0, 1)), ("tuple", [("int", 0), ("NoneType", None)]))
+        self.assertEqual(exact(shares.limits(FIVE, RING, 0, [2])), ("tuple", [("int", 2), ("int", 10)]))
+        told = exact(shares.pays_beyond(FIVE, RING, 0, [(0, 1), (4, 1), (4, 1), (2, 1), (6, 1)]))
+        self.assertEqual([told[0], told[1][0][0], told[1][1]], ["tuple", "list", ("tuple", [("int", 2), ("int", 1)])])
+        for truth in (far.shows_far(FIVE, RING, [0], [0]), far.shows_far(FIVE, RING, [0, 1], [(0, 1)])):
+            self.assertIs(truth, True)
+
     def test_values_that_were_returned_may_be_passed_back(self):
         great = amounts.place_amounts([[0, 10 ** 30, 10 ** 30], [10 ** 30, 0, 0], [10 ** 30, 0, 0]], [0, 1, 2])
         self.assertEqual(great, [2 * 10 ** 30, 0, 0])
         self.assertEqual(amounts.table_with([2, 1, 0], great, [])[0], [0, 10 ** 30, 10 ** 30])
         self.assertEqual(finding.skip_index(FIVE, finding.nth_skip(FIVE, 1)), 1)
+        fair = shares.fair_shares(FIVE, RING, 0)
+        self.assertIsNone(shares.pays_beyond(FIVE, RING, 0, fair))
+        great = [[0 if one == other else 10 ** 30 for other in range(30)] for one in range(30)]
+        length = choosing.dearest_stops(great, list(range(30)), 30)[0]
+        self.assertEqual(choosing.most_stops(great, list(range(30)), length)[0], 30)
 
 
 if __name__ == "__main__":

@@ -62,6 +62,48 @@ def skip_table(numbers, ring, heavy, limit=4):
     return table
 
 
+def bent_table(numbers, ring, heavy):
+    """A table for which a ring is a skip ring, with amounts of places that are mostly below 0 or odd."""
+    table = skip_table(numbers, ring, heavy)
+    count = len(ring)
+    own = [numbers.below(6) for _ in range(count)]
+    raised = max([0] + [own[one] + own[other] - table[one][other] for one, other in combinations(range(count), 2)])
+    for one, other in combinations(range(count), 2):
+        table[one][other] += raised - own[one] - own[other]
+        table[other][one] = table[one][other]
+    # One place may be nearer to all others, so that ways by it are shorter.
+    near = numbers.below(count)
+    least = min([table[near][other] for other in range(count) if other != near], default=0)
+    for other in range(count):
+        if other != near:
+            table[near][other] -= least
+            table[other][near] -= least
+    return table
+
+
+def skip_pairs(seed, sizes, many):
+    """Some tables of several sizes, each with a mixed skip ring."""
+    numbers = Numbers(seed)
+    pairs = []
+    for count in sizes:
+        for _ in range(many):
+            ring = numbers.mixed(range(count))
+            pairs.append((skip_table(numbers, ring, numbers.below(2 * count)), ring))
+            pairs.append((bent_table(numbers, ring, numbers.below(2 * count)), ring))
+    return pairs
+
+
+def subsets(places):
+    """All sets of some places as ascending tuples, the empty one first."""
+    places = sorted(places)
+    return [stops for size in range(len(places) + 1) for stops in combinations(places, size)]
+
+
+def round_by_words(table, ring, stops):
+    """The length of the trip round a ring through some stops, 0 for none."""
+    return closed_length(table, in_ring_sequence(ring, stops))
+
+
 def drawn_tables(seed, sizes, many):
     """Tables of several sizes: any ones, and ones that have skip rings."""
     numbers = Numbers(seed)
