@@ -46,6 +46,20 @@ def row_amounts(table, row):
     return found
 
 
+def heavy_sides(table, row):
+    """The list of (first, last) of the heavy cuts, the row being a ring begun at any place; None if it has a bar.
+
+    The side without this place goes from row[first] to row[last].
+    """
+    sides = []
+    for first, last, amount in row_amounts(table, row):
+        if amount < 0:
+            return None
+        if amount > 0:
+            sides.append((first, last))
+    return sides
+
+
 def own_amounts(table, ring):
     """The list of the amounts of the places."""
     count = len(ring)

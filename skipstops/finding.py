@@ -1,76 +1,88 @@
 """All skip rings of a table, and all shortest trips through some stops.
 
-If a table has a skip ring, its skip rings are all its shortest rings. So one shortest ring tells whether there
-are skip rings at all, and if so, the shortest trips through all places are them.
+If a table has a skip ring, its skip rings are all its shortest rings. So one skip ring tells the others, and only a
+table without any needs a search for its shortest trips.
 """
 
 from skipstops.checks import check_index, check_ring, check_size, check_stops, check_table, check_tables
-from skipstops.cutting import check_skip, goes_skip
-from skipstops.errors import InvalidIndex, NoSkipRing
+from skipstops.cutting import goes_skip, heavy_sides
+from skipstops.errors import InvalidIndex, NoSkipRing, NotSkip
+from skipstops.layouts import SkipRings
+from skipstops.seeking import some_skip_ring
 from skipstops.shortest import ShortestTrips
-from skipstops.trips import plain_trip
+from skipstops.trips import begun_at, plain_trip, round_length
 
 MOST_FOUND = 10
 
 
 def shortest_length(table):
     """The length of a shortest trip through all places."""
-    return _all_places(table).least_length()
+    check_table(table)
+    check_size(len(table), MOST_FOUND)
+    found = some_skip_ring(table)
+    return ShortestTrips(table).least_length() if found is None else round_length(table, found[0])
 
 
 def has_skip(table):
     """Whether some ring is a skip ring."""
-    return _first_skip(table, _all_places(table)) is not None
+    check_table(table)
+    check_size(len(table), MOST_FOUND)
+    return some_skip_ring(table) is not None
 
 
 def count_skip(table):
     """How many plain rings are skip rings."""
-    trips = _all_places(table)
-    return 0 if _first_skip(table, trips) is None else trips.many()
+    check_table(table)
+    rings = _skip_rings(table)
+    return 0 if rings is None else rings.many()
 
 
 def nth_skip(table, index):
     """The plain skip ring with an index, ascending."""
     check_table(table)
     check_index(index)
-    trips = _all_places(table)
-    if _first_skip(table, trips) is None:
+    rings = _skip_rings(table)
+    if rings is None:
         raise InvalidIndex("the table has no skip ring")
-    return _nth_of(trips, index)
+    return _nth_of(rings, index)
 
 
 def skip_index(table, ring):
     """The index of the plain ring of a skip ring among the plain skip rings."""
     check_table(table)
     check_ring(ring, len(table))
-    check_skip(table, ring)
-    return _all_places(table).index_of(plain_trip(ring))
+    row = begun_at(ring, 0)
+    sides = heavy_sides(table, row)
+    if sides is None:
+        raise NotSkip("the ring is not a skip ring of the table")
+    check_size(len(table), MOST_FOUND)
+    return SkipRings(row, sides).index_of(plain_trip(ring))
 
 
 def skip_ring(table):
     """The first plain skip ring, None if there is none."""
-    return _first_skip(table, _all_places(table))
+    check_table(table)
+    rings = _skip_rings(table)
+    return None if rings is None else rings.nth(0)
 
 
 def sure_neighbours(table):
     """The ascending list of the pairs of places that stand side by side on all skip rings."""
-    trips = _skip_trips(table)
-    many = trips.many()
-    return [pair for pair in _pairs(len(table)) if trips.many_beside(pair[0], pair[1]) == many]
+    check_table(table)
+    return _some_skip_rings(table).sure_pairs()
 
 
 def possible_neighbours(table):
     """The ascending list of the pairs of places that stand side by side on some skip ring."""
-    trips = _skip_trips(table)
-    return [pair for pair in _pairs(len(table)) if trips.many_beside(pair[0], pair[1]) > 0]
+    check_table(table)
+    return _some_skip_rings(table).possible_pairs()
 
 
 def count_trips(table, stops):
     """How many plain trips through some stops are shortest."""
     check_table(table)
     check_stops(stops, len(table))
-    check_size(len(stops), MOST_FOUND)
-    return ShortestTrips(table, stops).many()
+    return _shortest_trips(table, sorted(stops)).many()
 
 
 def nth_trip(table, stops, index):
@@ -78,8 +90,8 @@ def nth_trip(table, stops, index):
     check_table(table)
     check_stops(stops, len(table))
     check_index(index)
-    check_size(len(stops), MOST_FOUND)
-    return _nth_of(ShortestTrips(table, stops), index)
+    numbered = sorted(stops)
+    return [numbered[number] for number in _nth_of(_shortest_trips(table, numbered), index)]
 
 
 def common_skip(tables):
@@ -90,38 +102,37 @@ def common_skip(tables):
     total = [[sum([table[one][other] for table in tables]) for other in places] for one in places]
     # The amounts of a common skip ring add up to those of the sum, so none of the tables has a heavy cut that
     # the sum has not: then all skip rings of the sum are common ones, and otherwise none is.
-    ring = ShortestTrips(total, list(places)).nth(0)
-    return ring if all([goes_skip(table, ring) for table in tables]) else None
+    found = some_skip_ring(total)
+    if found is None or not all([goes_skip(table, found[0]) for table in tables]):
+        return None
+    return SkipRings(found[0], found[1]).nth(0)
 
 
-def _all_places(table):
-    """The shortest trips through all places of a table; InvalidTable, TooLarge."""
-    check_table(table)
+def _skip_rings(table):
+    """The skip rings of a table, None if it has none; TooLarge."""
     check_size(len(table), MOST_FOUND)
-    return ShortestTrips(table, list(range(len(table))))
+    found = some_skip_ring(table)
+    return None if found is None else SkipRings(found[0], found[1])
 
 
-def _first_skip(table, trips):
-    """The first of the shortest trips through all places, None if it is no skip ring."""
-    ring = trips.nth(0)
-    return ring if goes_skip(table, ring) else None
-
-
-def _skip_trips(table):
-    """The skip rings of a table as shortest trips; NoSkipRing if there are none."""
-    trips = _all_places(table)
-    if _first_skip(table, trips) is None:
+def _some_skip_rings(table):
+    """The skip rings of a table; NoSkipRing if it has none."""
+    rings = _skip_rings(table)
+    if rings is None:
         raise NoSkipRing("the table has no skip ring")
-    return trips
+    return rings
 
 
-def _nth_of(trips, index):
-    """The one of some trips with an index; InvalidIndex if it is too great."""
-    if index >= trips.many():
+def _shortest_trips(table, stops):
+    """The shortest trips through some stops, told by their numbers in the ascending list of them; TooLarge."""
+    check_size(len(stops), MOST_FOUND)
+    steps = [[table[one][other] for other in stops] for one in stops]
+    rings = _skip_rings(steps)
+    return ShortestTrips(steps) if rings is None else rings
+
+
+def _nth_of(rings, index):
+    """The one of some rings or trips with an index; InvalidIndex if it is too great."""
+    if index >= rings.many():
         raise InvalidIndex("there are not so many")
-    return trips.nth(index)
-
-
-def _pairs(count):
-    """The ascending list of the tuples of two places, the lesser one first."""
-    return [(one, other) for one in range(count) for other in range(one + 1, count)]
+    return rings.nth(index)

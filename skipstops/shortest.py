@@ -1,110 +1,92 @@
-"""The shortest trips through some stops, counted and told one by one without making them all."""
+"""The shortest trips through all places of a table, counted and told one by one without making them all.
+
+This goes through all sets of places. A table that has a skip ring does not need it: see `seeking` and `layouts`. So
+the tables here have four places or more.
+"""
+
+# More bits than the number of the trips through ten places has.
+BITS = 24
 
 
 class ShortestTrips:
-    """The shortest plain trips through some stops, ascending.
+    """The shortest plain trips through all places, ascending.
 
-    Inside, the stops are numbered from 0 in ascending sequence, and each trip begins with the number 0. The
-    numbers that are still to come are a bit set. `least` tells for such a set and a number how long the way
-    from the number through the set back to 0 is at least, `follows` which numbers of the set can come first
-    on so short a way.
+    The places that are still to come are a bit set. `least[rest][place]` tells how long the way from a place through
+    such a set back to 0 is at least, `tails[rest]` has the tuples (place, length) of the least lengths of the ways
+    that begin with a place of the set.
     """
 
-    def __init__(self, table, stops):
-        self.stops = sorted(stops)
-        self.steps = [[table[one][other] for other in self.stops] for one in self.stops]
-        # The bit of the number 0 is never set: no trip comes to it but at its end.
-        self.every = (1 << len(stops)) - 2
-        self.least = {}
-        self.follows = {}
+    def __init__(self, steps):
+        """From a table."""
+        self.steps = steps
+        # The bit of the place 0 is never set: no trip comes to it but at its end.
+        self.every = (1 << len(steps)) - 2
+        self.least = {0: [row[0] for row in steps]}
+        self.tails = {0: []}
         self.kept_ways = {}
-        for rest in range(0, self.every + 1, 2):
+        for rest in range(2, self.every + 1, 2):
             self._find_least(rest)
 
     def least_length(self):
         """How long each of the trips is."""
-        return self.least[(self.every, 0)]
+        return self.least[self.every][0]
 
     def many(self):
         """How many trips there are."""
-        ways = self._ways(-1)[(self.every, 0)]
-        # From three stops on each trip is met forwards and backwards.
-        return ways if len(self.stops) < 3 else ways // 2
+        # Each trip is met forwards and backwards.
+        return self._many_above(self.every, 0, 0) // 2
 
     def nth(self, index):
         """The trip with an index, for which there is one."""
-        begun = [0]
-        while len(begun) < len(self.stops):
-            numbers = self._going_on(begun)
-            at = 0
-            many = self._many_begun(begun + [numbers[at]])
-            while index >= many:
+        trip = [0]
+        rest = self.every
+        while rest:
+            for place in self._following(rest, trip[-1]):
+                # The last place of a plain trip is above its second one.
+                low = place if len(trip) == 1 else trip[1]
+                many = self._many_above(rest - (1 << place), place, low)
+                if index < many:
+                    break
                 index -= many
-                at += 1
-                many = self._many_begun(begun + [numbers[at]])
-            begun.append(numbers[at])
-        return [self.stops[number] for number in begun]
-
-    def index_of(self, trip):
-        """The index of one of the trips."""
-        numbers = [self.stops.index(place) for place in trip]
-        index = 0
-        for size in range(1, len(numbers)):
-            begun = numbers[:size]
-            lesser = [number for number in self._going_on(begun) if number < numbers[size]]
-            index += sum([self._many_begun(begun + [number]) for number in lesser])
-        return index
-
-    def many_beside(self, one, other):
-        """On how many of the trips two numbers, the lesser one first, stand side by side."""
-        ways = self._ways(-1)
-        others = self._left([one, other])
-        wanted = self.least_length() - self.steps[one][other]
-        many = 0
-        for ahead in range(0, others + 1, 2):
-            # A way back from a number to 0 is, read backwards, a way from 0 to it; to 0 itself nothing is ahead.
-            if ahead & others == ahead and (one > 0 or ahead == 0):
-                behind = others - ahead
-                if self.least[(ahead, one)] + self.least[(behind, other)] == wanted:
-                    many += ways[(ahead, one)] * ways[(behind, other)]
-        return many
+            trip.append(place)
+            rest -= 1 << place
+        return trip
 
     def _find_least(self, rest):
         """Fill in what is kept for one set; all lesser sets are done."""
-        numbers = [number for number in range(len(self.stops)) if rest >> number & 1]
-        for at in range(len(self.stops)):
-            if at not in numbers:
-                tails = [self.steps[at][first] + self.least[(rest - (1 << first), first)] for first in numbers]
-                least = min(tails) if tails else self.steps[at][0]
-                self.least[(rest, at)] = least
-                self.follows[(rest, at)] = [first for first, tail in zip(numbers, tails) if tail == least]
+        tails = []
+        for place in range(1, len(self.steps)):
+            if rest >> place & 1:
+                tails.append((place, self.least[rest - (1 << place)][place]))
+        self.tails[rest] = tails
+        self.least[rest] = [
+            None if rest >> at & 1 else min([row[place] + tail for place, tail in tails])
+            for at, row in enumerate(self.steps if rest < self.every else self.steps[:1])
+        ]
 
-    def _ways(self, low):
-        """For each set and number how many of the least ways back to 0 have a last stop above `low`."""
-        if low not in self.kept_ways:
-            ways = {}
-            for (rest, at), numbers in self.follows.items():
-                if rest == 0:
-                    ways[(rest, at)] = 1 if at > low else 0
-                else:
-                    ways[(rest, at)] = sum([ways[(rest - (1 << first), first)] for first in numbers])
-            self.kept_ways[low] = ways
-        return self.kept_ways[low]
+    def _following(self, rest, at):
+        """The places of a set, ascending, with which a shortest way from a place through the set can go on."""
+        row, least = self.steps[at], self.least[rest][at]
+        return [place for place, tail in self.tails[rest] if row[place] + tail == least]
 
-    def _left(self, begun):
-        """The set of the numbers other than 0 that are not yet on a trip."""
-        rest = self.every
-        for number in begun:
-            if number > 0:
-                rest -= 1 << number
-        return rest
+    def _many_above(self, rest, at, low):
+        """How many shortest ways from a place through a set back to 0 have a last place above `low`."""
+        ways = self._ways(rest, at) >> BITS * (low + 1)
+        many = 0
+        while ways:
+            many += ways & (1 << BITS) - 1
+            ways = ways >> BITS
+        return many
 
-    def _going_on(self, begun):
-        """The numbers with which a begun trip can go on."""
-        return self.follows[(self._left(begun), begun[-1])]
+    def _ways(self, rest, at):
+        """How many shortest ways from a place through a set back to 0 have each last place.
 
-    def _many_begun(self, begun):
-        """How many of the trips begin with two or more numbers, with which some shortest way begins."""
-        # A plain trip of three or more stops has its second stop below its last one.
-        low = begun[1] if len(self.stops) > 2 else -1
-        return self._ways(low)[(self._left(begun), begun[-1])]
+        All in one number, for the last place 0 its lowest bits: so they are added at once.
+        """
+        if rest == 0:
+            return 1 << BITS * at
+        key = (rest, at)
+        if key not in self.kept_ways:
+            following = self._following(rest, at)
+            self.kept_ways[key] = sum([self._ways(rest - (1 << place), place) for place in following])
+        return self.kept_ways[key]

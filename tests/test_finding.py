@@ -1,14 +1,14 @@
 """[10], [18]: all skip rings of a table, and all shortest trips."""
 
 import unittest
-from itertools import combinations
+from itertools import combinations, product
 
 from skipstops.amounts import cuts_of, heavy_cuts, is_skip
 from skipstops.errors import InvalidIndex, NoSkipRing, NotSkip, TooLarge
 from skipstops.finding import common_skip, count_skip, count_trips, has_skip, nth_skip, nth_trip, possible_neighbours
 from skipstops.finding import shortest_length, skip_index, skip_ring, sure_neighbours
-from tests.tools import FIVE, GREATEST, Numbers, RING, SPLIT, any_table, beside, drawn_tables, exact, plain_rings
-from tests.tools import rings_by_words, shortest_by_words, skip_table, zeros
+from tests.tools import FIVE, GREATEST, Numbers, RING, SPLIT, any_table, bars_by_words, beside, closed_length
+from tests.tools import drawn_tables, exact, plain_rings, rings_by_words, shortest_by_words, sided_table, skip_table, zeros
 
 HALF_OF_9 = 181440
 
@@ -43,6 +43,63 @@ class AllSkipRings(unittest.TestCase):
     def test_named_tables(self):
         for table in (FIVE, SPLIT, zeros(1), zeros(2), zeros(3), zeros(4), zeros(6), [[0, 9], [9, 0]]):
             self.check(table)
+
+    def check_rings(self, table, rings):
+        """All answers, by the list of all plain skip rings."""
+        numbers = Numbers(len(rings))
+        self.assertEqual([has_skip(table), count_skip(table)], [bool(rings), len(rings)])
+        self.assertEqual(skip_ring(table), rings[0] if rings else None)
+        for index in numbers.mixed(range(len(rings)))[:20]:
+            self.assertEqual(nth_skip(table, index), rings[index])
+            begun = numbers.below(len(table))
+            alike = rings[index][begun:] + rings[index][:begun]
+            self.assertEqual(skip_index(table, alike[::1 - 2 * numbers.below(2)]), index)
+        if rings:
+            sides = [beside(ring) for ring in rings]
+            self.assertEqual(sure_neighbours(table), sorted(set.intersection(*sides)))
+            self.assertEqual(possible_neighbours(table), sorted(set.union(*sides)))
+
+    def test_tables_of_few_sides(self):
+        numbers = Numbers(35)
+        found = {True: 0, False: 0}
+        for count in (4, 5, 6, 7):
+            for many in range(7):
+                for flaws in (0, 1, 0, 2):
+                    table = sided_table(numbers, count, many, flaws)
+                    rings = [ring for ring in plain_rings(count) if not bars_by_words(table, ring)]
+                    found[bool(rings)] += 1
+                    self.check_rings(table, rings)
+        self.assertGreater(min(found.values()), 15)
+
+    def test_all_tables_of_small_distances(self):
+        for count, limit in ((4, 4), (5, 2)):
+            pairs = list(combinations(range(count), 2))
+            rings = plain_rings(count)
+            for drawn in product(range(limit), repeat=len(pairs)):
+                table = zeros(count)
+                for (one, other), distance in zip(pairs, drawn):
+                    table[one][other] = table[other][one] = distance
+                found = [ring for ring in rings if is_skip(table, ring)]
+                self.assertEqual(count_skip(table), len(found))
+                self.assertEqual(skip_ring(table), found[0] if found else None)
+
+    def test_eight_to_ten_places_of_few_sides(self):
+        numbers = Numbers(36)
+        for count in (8, 9, 10):
+            for many in range(9):
+                table = sided_table(numbers, count, many)
+                rings = count_skip(table)
+                self.assertGreater(rings, 0)
+                indices = sorted({0, rings - 1, rings // 2, rings // 3, numbers.below(rings)})
+                told = [nth_skip(table, index) for index in indices]
+                self.assertEqual(told, sorted(told))
+                self.assertTrue(all(is_skip(table, ring) for ring in told))
+                self.assertEqual([skip_index(table, ring[3:] + ring[:3]) for ring in told], indices)
+                self.assertRaises(InvalidIndex, nth_skip, table, rings)
+                # The shortest rings are found in another way if one distance bars them all.
+                table[0][1] = table[1][0] = table[0][1] + 1
+                if not has_skip(table) and count == 8:
+                    self.assertEqual(shortest_length(table), min(closed_length(table, ring) for ring in plain_rings(8)))
 
     def test_few_places(self):
         self.assertEqual([sure_neighbours([[0]]), possible_neighbours([[0]]), skip_ring([[0]])], [[], [], [0]])
@@ -153,6 +210,37 @@ class ShortestTrips(unittest.TestCase):
                 self.assertEqual([nth_trip(table, stops, index) for index in range(len(trips))], trips)
                 for index in (len(trips), 10 ** 59):
                     self.assertRaises(InvalidIndex, nth_trip, table, stops, index)
+
+    def test_trips_of_tables_of_few_sides(self):
+        numbers = Numbers(37)
+        found = {True: 0, False: 0}
+        for size in (4, 5, 6, 7):
+            for flaws in (0, 1, 1, 2):
+                table = sided_table(numbers, size + 2, 5, flaws)
+                stops = numbers.mixed(range(size + 2))[:size]
+                trips = shortest_by_words(table, stops)
+                found[has_skip([[table[one][other] for other in stops] for one in stops])] += 1
+                self.assertEqual(count_trips(table, stops), len(trips))
+                for index in numbers.mixed(range(len(trips)))[:20]:
+                    self.assertEqual(nth_trip(table, stops, index), trips[index])
+        self.assertGreater(min(found.values()), 2)
+
+    def test_ten_places_without_skip_ring(self):
+        # Both 0 and 1 are near to all others, and these are far from each other: 0 and 1 stand apart.
+        table = [[0 if one == other else 2 for other in range(10)] for one in range(10)]
+        for near in (0, 1):
+            for other in range(2, 10):
+                table[near][other] = table[other][near] = 1
+        stops = list(range(10))
+        self.assertIs(has_skip(table), False)
+        self.assertEqual([shortest_length(table), skip_ring(table)], [16, None])
+        many = count_trips(table, stops)
+        self.assertEqual(many, HALF_OF_9 - HALF_OF_9 * 2 // 9)
+        told = [nth_trip(table, stops, index) for index in (0, 1, many // 2, many - 1)]
+        self.assertEqual(told, sorted(told))
+        self.assertTrue(all(closed_length(table, trip) == 16 for trip in told))
+        self.assertEqual(told[0], [0, 2, 1, 3, 4, 5, 6, 7, 8, 9])
+        self.assertRaises(InvalidIndex, nth_trip, table, stops, many)
 
     def test_without_skip_ring(self):
         self.assertEqual(count_trips(SPLIT, [4, 1, 0, 2, 3]), 6)

@@ -17,7 +17,7 @@ INTERFACE = {
     "shares.py": ["costs", "fair_shares", "shares_by", "bending", "pays_beyond", "limits", "even_steps"],
     "changes.py": ["slack", "grown", "shrunk", "ring_without", "new_spots", "left_out"],
 }
-LIBRARY = {"math": ["gcd", "lcm"], "itertools": ["combinations"]}
+LIBRARY = {"math": ["factorial", "gcd", "lcm"], "itertools": ["combinations"]}
 BARRED = (ast.AsyncFunctionDef, ast.Global, ast.Import, ast.Set, ast.Div, ast.AnnAssign)
 
 

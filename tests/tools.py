@@ -104,6 +104,22 @@ def round_by_words(table, ring, stops):
     return closed_length(table, in_ring_sequence(ring, stops))
 
 
+def sided_table(numbers, count, many, flaws=0):
+    """A table of a few sides of a mixed ring, each with the amount 2, with some distances changed by 1."""
+    ring = numbers.mixed(range(count))
+    table = zeros(count)
+    for _ in range(many):
+        start, size = numbers.below(count), 1 + numbers.below(count)
+        side = {ring[(start + at) % count] for at in range(size)}
+        for one, other in combinations(range(count), 2):
+            table[one][other] += (one in side) != (other in side)
+            table[other][one] = table[one][other]
+    for _ in range(flaws):
+        one, other = numbers.mixed(range(count))[:2]
+        table[one][other] = table[other][one] = max(0, table[one][other] + 2 * numbers.below(2) - 1)
+    return table
+
+
 def drawn_tables(seed, sizes, many):
     """Tables of several sizes: any ones, and ones that have skip rings."""
     numbers = Numbers(seed)
