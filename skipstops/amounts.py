@@ -1,23 +1,28 @@
 """The cuts of a ring, and the amounts of places and cuts."""
 
 from skipstops.checks import check_amounts, check_any_ring, check_ring, check_table
-from skipstops.cutting import check_skip, corner_amount, cut_corners, first_bar, goes_skip, own_amounts
+from skipstops.cutting import all_cuts, amounts_from, first_bar, goes_skip, heavy_sides_of_skip, own_amounts
 from skipstops.errors import InvalidCuts, NoTable
 from skipstops.kinds import LARGEST, is_integer, is_integer_tuple, makes_stops
-from skipstops.trips import round_length, trip_around
+from skipstops.trips import begun_at, round_length, trip_around
 
 
 def cuts_of(ring):
     """The ascending list of all cuts of a ring."""
     check_any_ring(ring)
-    return [cut for cut, corners in cut_corners(ring)]
+    return sorted([cut for cuts in all_cuts(begun_at(ring, 0)) for cut in cuts])
 
 
 def cut_amounts(table, ring):
     """The ascending list of (cut, amount) of all cuts."""
     check_table(table)
     check_ring(ring, len(table))
-    return _amounts_of_cuts(table, ring)
+    row = begun_at(ring, 0)
+    found = []
+    for first, cuts in enumerate(all_cuts(row)):
+        if cuts:
+            found.extend(list(zip(cuts, amounts_from(table, row, first))))
+    return _ascending(found)
 
 
 def place_amounts(table, ring):
@@ -60,15 +65,16 @@ def heavy_cuts(table, ring):
     """The ascending list of (cut, amount) of the heavy cuts of a skip ring."""
     check_table(table)
     check_ring(ring, len(table))
-    check_skip(table, ring)
-    return [(cut, amount) for cut, amount in _amounts_of_cuts(table, ring) if amount > 0]
+    row = begun_at(ring, 0)
+    sides = heavy_sides_of_skip(table, row)
+    return _ascending([(tuple(sorted(row[first:last + 1])), amount) for first, last, amount in sides])
 
 
 def table_with(ring, amounts, cuts):
     """The table with these amounts of the places and of the cuts of a ring."""
     check_any_ring(ring)
     check_amounts(amounts, len(ring))
-    _check_cuts(cuts, cuts_of(ring))
+    _check_cuts(cuts, {cut: True for cut in cuts_of(ring)})
     _check_short(amounts)
     table = [[_half(double) for double in row] for row in _doubles(amounts, cuts)]
     if any([not 0 <= distance <= LARGEST for row in table for distance in row]):
@@ -76,9 +82,10 @@ def table_with(ring, amounts, cuts):
     return table
 
 
-def _amounts_of_cuts(table, ring):
-    """The ascending list of (cut, amount) of all cuts."""
-    return [(cut, corner_amount(table, corners)) for cut, corners in cut_corners(ring)]
+def _ascending(pairs):
+    """The list of tuples (cut, amount), ascending."""
+    # No cut is there twice, so the amounts need not be compared.
+    return sorted(pairs, key=lambda pair: pair[0])
 
 
 def _check_cuts(cuts, known):

@@ -1,63 +1,91 @@
-"""The cuts of a ring and what they tell, for values that are known to be right."""
+"""The cuts of a ring and what they tell, for values that are known to be right.
+
+A row is a ring, begun at any place. Each cut has one side without this place, from row[first] to row[last].
+"""
 
 from skipstops.errors import NotSkip
 
 
-def cut_corners(ring):
-    """The ascending list of (cut, corners) of all cuts.
+def all_cuts(row):
+    """For each number of a row the list of the ascending tuples of the sides that begin there, the shortest first.
 
-    The corners (w, x, y, z) are the ends x and y of the side without the place 0, and the places w and z that
-    stand ahead of x and behind y.
+    The row begins with the place 0. Sides of one place and the side of all others, which are those of no cuts, are
+    left out.
     """
-    count = len(ring)
-    start = ring.index(0)
-    begun = ring[start:] + ring[:start + 1]
-    found = []
-    for first in range(1, count):
-        for last in range(first + 1, count):
-            # The other side has two places or more, too.
-            if last - first < count - 2:
-                cut = tuple(sorted(begun[first:last + 1]))
-                found.append((cut, (begun[first - 1], begun[first], begun[last], begun[last + 1])))
-    return sorted(found)
+    count = len(row)
+    found = [[] for _ in row]
+    behind = []
+    for first in range(count - 1, 0, -1):
+        place = row[first]
+        sides = [(place,)]
+        at = 0
+        for other, side in zip(row[first + 1:], behind):
+            # The side without this place is ascending, so it is put behind those that are less.
+            if other < place:
+                at += 1
+            sides.append(side[:at] + (place,) + side[at:])
+        found[first] = sides[1:] if first > 1 else sides[1:-1]
+        behind = sides
+    return found
 
 
-def corner_amount(table, corners):
-    """The amount of the cut with these corners."""
-    w, x, y, z = corners
-    return table[w][y] + table[x][z] - table[x][y] - table[w][z]
+def amounts_from(table, row, first):
+    """The list of the amounts of the cuts whose sides begin at a number of the row, the shortest side first."""
+    nearer = _nearer(table, row, first)
+    return [nearer[at - 1] - nearer[at] for at in range(1, len(nearer))]
 
 
 def row_amounts(table, row):
-    """The list of (first, last, amount) of all cuts, the row being a ring begun at any place.
-
-    The side without this place goes from row[first] to row[last].
-    """
-    count = len(row)
-    closed = row + row[:1]
+    """The list of (first, last, amount) of all cuts."""
     found = []
-    for first in range(1, count):
-        behind, begun = table[row[first - 1]], table[row[first]]
-        nearer = [behind[place] - begun[place] for place in closed]
-        for last in range(first + 1, count):
-            # The other side has two places or more, too.
-            if last - first < count - 2:
-                found.append((first, last, nearer[last] - nearer[last + 1]))
+    for first in range(1, len(row) - 1):
+        found.extend([(first, last, amount) for last, amount in enumerate(amounts_from(table, row, first), first + 1)])
     return found
 
 
 def heavy_sides(table, row):
-    """The list of (first, last) of the heavy cuts, the row being a ring begun at any place; None if it has a bar.
-
-    The side without this place goes from row[first] to row[last].
-    """
-    sides = []
-    for first, last, amount in row_amounts(table, row):
-        if amount < 0:
+    """The list of (first, last, amount) of the heavy cuts; None if the ring is no skip ring."""
+    found = []
+    for first in range(1, len(row) - 1):
+        nearer = _nearer(table, row, first)
+        if nearer != sorted(nearer, reverse=True):
             return None
-        if amount > 0:
-            sides.append((first, last))
+        if nearer and nearer[0] > nearer[-1]:
+            found.extend([
+                (first, first + at, nearer[at - 1] - nearer[at])
+                for at in range(1, len(nearer)) if nearer[at - 1] > nearer[at]
+            ])
+    return found
+
+
+def heavy_sides_of_skip(table, row):
+    """The list of (first, last, amount) of the heavy cuts; NotSkip unless the ring is a skip ring."""
+    sides = heavy_sides(table, row)
+    if sides is None:
+        raise NotSkip("the ring is not a skip ring of the table")
     return sides
+
+
+def first_bar(table, ring):
+    """A bar of the ring, None if it is a skip ring."""
+    for first in range(1, len(ring) - 1):
+        nearer = _nearer(table, ring, first)
+        if nearer != sorted(nearer, reverse=True):
+            last = first + min([at for at in range(1, len(nearer)) if nearer[at - 1] < nearer[at]])
+            # Since the amount is below 0, going w, x, z, y is shorter than going round w, x, y, z.
+            return tuple(sorted([ring[first - 1], ring[first], ring[last], ring[last + 1 - len(ring)]]))
+    return None
+
+
+def goes_skip(table, ring):
+    """Whether the ring is a skip ring."""
+    return first_bar(table, ring) is None
+
+
+def check_skip(table, ring):
+    """NotSkip unless the ring is a skip ring."""
+    if not goes_skip(table, ring):
+        raise NotSkip("the ring is not a skip ring of the table")
 
 
 def own_amounts(table, ring):
@@ -73,21 +101,18 @@ def own_amounts(table, ring):
     return amounts
 
 
-def first_bar(table, ring):
-    """A bar of the ring, None if it is a skip ring."""
-    for cut, corners in cut_corners(ring):
-        # An amount below 0 tells that going w, x, z, y is shorter than going round.
-        if corner_amount(table, corners) < 0:
-            return tuple(sorted(corners))
-    return None
+def corner_amount(table, corners):
+    """The amount of the cut with a side from x to y, w standing ahead of x and z behind y."""
+    w, x, y, z = corners
+    return table[w][y] + table[x][z] - table[x][y] - table[w][z]
 
 
-def goes_skip(table, ring):
-    """Whether the ring is a skip ring."""
-    return first_bar(table, ring) is None
+def _nearer(table, row, first):
+    """By how much the places behind row[first] are nearer to it than to the one ahead of it, each in turn.
 
-
-def check_skip(table, ring):
-    """NotSkip unless the ring is a skip ring."""
-    if not goes_skip(table, ring):
-        raise NotSkip("the ring is not a skip ring of the table")
+    From one to the next this falls by the amount of the cut whose side begins at row[first] and ends at the one.
+    """
+    far, near = table[row[first - 1]], table[row[first]]
+    # Behind the last place comes the first one again; but the side of all others is that of no cut.
+    places = row[first + 1:] + row[:1] if first > 1 else row[2:]
+    return [far[place] - near[place] for place in places]

@@ -5,8 +5,8 @@ table without any needs a search for its shortest trips.
 """
 
 from skipstops.checks import check_index, check_ring, check_size, check_stops, check_table, check_tables
-from skipstops.cutting import goes_skip, heavy_sides
-from skipstops.errors import InvalidIndex, NoSkipRing, NotSkip
+from skipstops.cutting import goes_skip, heavy_sides_of_skip
+from skipstops.errors import InvalidIndex, NoSkipRing
 from skipstops.layouts import SkipRings
 from skipstops.seeking import some_skip_ring
 from skipstops.shortest import ShortestTrips
@@ -52,9 +52,7 @@ def skip_index(table, ring):
     check_table(table)
     check_ring(ring, len(table))
     row = begun_at(ring, 0)
-    sides = heavy_sides(table, row)
-    if sides is None:
-        raise NotSkip("the ring is not a skip ring of the table")
+    sides = heavy_sides_of_skip(table, row)
     check_size(len(table), MOST_FOUND)
     return SkipRings(row, sides).index_of(plain_trip(ring))
 

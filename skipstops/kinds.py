@@ -9,14 +9,21 @@ def is_integer(value):
     return isinstance(value, int) and not isinstance(value, bool)
 
 
+def _are_integers(items):
+    """Whether some items are integers alone."""
+    # Nearly always they are plain ones, and then nothing else is asked.
+    others = [item for item in items if type(item) is not int]
+    return all([is_integer(item) for item in others])
+
+
 def is_integer_list(value):
     """Whether a value is a list of integers alone."""
-    return type(value) is list and all([is_integer(item) for item in value])
+    return type(value) is list and _are_integers(value)
 
 
 def is_integer_tuple(value):
     """Whether a value is a tuple of integers alone."""
-    return type(value) is tuple and all([is_integer(item) for item in value])
+    return type(value) is tuple and _are_integers(value)
 
 
 def makes_count(value):
@@ -31,7 +38,7 @@ def makes_place(count, value):
 
 def makes_row(count, value):
     """Whether a value is a list with an integer from 0 to the greatest distance for each of so many places."""
-    return is_integer_list(value) and len(value) == count and all([0 <= item <= LARGEST for item in value])
+    return is_integer_list(value) and len(value) == count and min(value) >= 0 and max(value) <= LARGEST
 
 
 def makes_table(value):
@@ -39,18 +46,24 @@ def makes_table(value):
     if type(value) is not list or not makes_count(len(value)):
         return False
     count = len(value)
-    if not all([makes_row(count, row) for row in value]):
+    if not all([type(row) is list and len(row) == count for row in value]):
         return False
-    if any([value[place][place] != 0 for place in range(count)]):
+    others = [item for row in value for item in row if type(item) is not int]
+    if others and not _are_integers(others):
         return False
-    return all([value[one][other] == value[other][one] for one in range(count) for other in range(one)])
+    if any([row[place] != 0 for place, row in enumerate(value)]):
+        return False
+    if [list(column) for column in zip(*value)] != value:
+        return False
+    # What is the same both ways needs to be looked at only one way.
+    return not [item for place, row in enumerate(value) for item in row[:place] if item < 0 or item > LARGEST]
 
 
 def makes_stops(count, value):
     """Whether a value is a list of one or more different ones of so many places."""
     if not is_integer_list(value) or not value:
         return False
-    return len(set(value)) == len(value) and all([0 <= place < count for place in value])
+    return len(set(value)) == len(value) and min(value) >= 0 and max(value) < count
 
 
 def makes_ring(count, value):

@@ -18,7 +18,7 @@ class SkipRings:
     """
 
     def __init__(self, row, sides):
-        """From a skip ring begun at 0, and the numbers in it of both ends of its heavy sides without 0."""
+        """From a skip ring begun at 0, and its heavy sides without 0: (first, last, amount)."""
         self.row = row
         self.pieces = [[] for _ in row]
         self.firm = [False] * len(row)
@@ -203,7 +203,7 @@ def _bounds_of(sides):
     begun = []
     groups = []
     # Of sides that begin together the wider one comes first.
-    for first, last in sorted(sides, key=lambda side: (side[0], -side[1])):
+    for first, last, _ in sorted(sides, key=lambda side: (side[0], -side[1])):
         group = [(first, last)]
         while begun and begun[-1][1] < first:
             groups.append(begun.pop()[0])

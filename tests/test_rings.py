@@ -42,6 +42,33 @@ class Tables(unittest.TestCase):
             table[place][place] = 1
             self.assertIs(is_table(table), False)
 
+    def test_integers_of_other_classes(self):
+        class Whole(int):
+            pass
+
+        self.assertIs(is_table([[0, Whole(1)], [1, Whole(0)]]), True)
+        self.assertIs(is_table([[0, Whole(1)], [True, 0]]), False)
+        self.assertIs(is_table([[0, Whole(1)], [2, 0]]), False)
+        self.assertIs(is_ring(2, [Whole(1), 0]), True)
+
+    def test_wrong_entries_of_great_tables(self):
+        for count in (2, 17, 30):
+            for one, other in ((0, 1), (count - 1, 0), (count // 2 - 1, count - 1), (count - 1, count - 2)):
+                for wrong in (True, False, None, "0", (0,), [0], -1, GREATEST + 1, 10 ** 59, -10 ** 59):
+                    table = zeros(count)
+                    table[one][other] = wrong
+                    self.assertIs(is_table(table), False)
+                    table[other][one] = wrong
+                    self.assertIs(is_table(table), False)
+                table = zeros(count)
+                table[one][one] = 1
+                self.assertIs(is_table(table), False)
+                table = zeros(count)
+                table[one][other] = table[other][one] = GREATEST
+                self.assertIs(is_table(table), True)
+                table[one] = tuple(table[one])
+                self.assertIs(is_table(table), False)
+
     def test_objects_that_are_equal_to_all(self):
         class Same:
             def __eq__(self, other):
