@@ -1,9 +1,9 @@
 """The cuts of a ring, and the amounts of places and cuts."""
 
-from skipstops.checks import check_amounts, check_any_ring, check_ring, check_table
+from skipstops.checks import check_amounts, check_any_ring, check_distances, check_ring, check_table
 from skipstops.cutting import all_cuts, amounts_from, first_bar, goes_skip, heavy_sides_of_skip, own_amounts
 from skipstops.errors import InvalidCuts, NoTable
-from skipstops.kinds import LARGEST, is_integer, is_integer_tuple, makes_stops
+from skipstops.kinds import is_integer, is_integer_tuple, makes_stops
 from skipstops.trips import begun_at, round_length, trip_around
 
 
@@ -77,8 +77,7 @@ def table_with(ring, amounts, cuts):
     _check_cuts(cuts, {cut: True for cut in cuts_of(ring)})
     _check_short(amounts)
     table = [[_half(double) for double in row] for row in _doubles(amounts, cuts)]
-    if any([not 0 <= distance <= LARGEST for row in table for distance in row]):
-        raise NoTable("a distance must be from 0 to 10 ** 30")
+    check_distances(table)
     return table
 
 

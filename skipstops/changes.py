@@ -2,11 +2,11 @@
 
 from itertools import combinations
 
-from skipstops.checks import check_any_ring, check_place, check_ring, check_row, check_size, check_table
-from skipstops.checks import check_two_places
+from skipstops.checks import check_any_ring, check_not_last, check_place, check_ring, check_row, check_size
+from skipstops.checks import check_table, check_two_places
 from skipstops.cutting import check_skip, corner_amount
-from skipstops.errors import LastPlace
 from skipstops.kinds import MOST_PLACES
+from skipstops.resizing import ring_without_place, with_place, without_place
 from skipstops.trips import begun_at
 
 MOST_TRIED = 10
@@ -33,24 +33,23 @@ def grown(table, row):
     check_table(table)
     check_row(row, len(table))
     check_size(len(table) + 1, MOST_PLACES)
-    return [distances + [more] for distances, more in zip(table, row)] + [row + [0]]
+    return with_place(table, row)
 
 
 def shrunk(table, place):
     """The table without a place, each greater number being one less."""
     check_table(table)
     check_place(place, len(table))
-    _check_not_last(table)
-    kept = [one for one in range(len(table)) if one != place]
-    return [[table[one][other] for other in kept] for one in kept]
+    check_not_last(len(table))
+    return without_place(table, place)
 
 
 def ring_without(ring, place):
     """The ring without a place, each greater number being one less."""
     check_any_ring(ring)
     check_place(place, len(ring))
-    _check_not_last(ring)
-    return [one - 1 if one > place else one for one in ring if one != place]
+    check_not_last(len(ring))
+    return ring_without_place(ring, place)
 
 
 def new_spots(table, ring, row):
@@ -85,12 +84,6 @@ def _side_amounts(table, ring, sides):
             corners = [ring[at % count] for at in (first - 1, first, last, last + 1)]
             amounts.append(corner_amount(table, corners))
     return amounts
-
-
-def _check_not_last(places):
-    """LastPlace if there is only one place."""
-    if len(places) == 1:
-        raise LastPlace("the only place cannot be taken away")
 
 
 def _fits_behind(table, ring, row, at):

@@ -2,9 +2,9 @@
 
 from skipstops.errors import InvalidAmounts, InvalidCount, InvalidIndex, InvalidNumber, InvalidPlace, InvalidPrizes
 from skipstops.errors import InvalidRing, InvalidRow, InvalidSequence, InvalidStops, InvalidTable, InvalidTables
-from skipstops.errors import InvalidTrip, TooLarge
-from skipstops.kinds import is_integer, is_integer_list, makes_count, makes_group, makes_place, makes_ring, makes_row
-from skipstops.kinds import makes_stops, makes_table
+from skipstops.errors import InvalidTrip, LastPlace, NoTable, TooLarge
+from skipstops.kinds import is_integer, is_integer_list, makes_count, makes_distance, makes_group, makes_place
+from skipstops.kinds import makes_ring, makes_row, makes_stops, makes_table
 
 MOST_TABLES = 6
 
@@ -94,6 +94,12 @@ def check_length(length):
         raise InvalidNumber("a length must be an integer from 0 on")
 
 
+def check_distance(distance):
+    """InvalidNumber unless it is an integer from 0 to 10 ** 30."""
+    if not makes_distance(distance):
+        raise InvalidNumber("a distance must be an integer from 0 to 10 ** 30")
+
+
 def check_prizes(prizes, count):
     """InvalidPrizes unless they are an integer from 0 to 10 ** 30 for each of so many places."""
     if not makes_row(count, prizes):
@@ -112,6 +118,12 @@ def check_index(index):
         raise InvalidIndex("an index must be an integer from 0 on")
 
 
+def check_spot(index, count):
+    """InvalidIndex unless it is an index of a ring of so many places."""
+    if not makes_place(count, index):
+        raise InvalidIndex("an index must be one of the ring")
+
+
 def check_amounts(amounts, count):
     """InvalidAmounts unless they are an integer for each of so many places."""
     if not is_integer_list(amounts) or len(amounts) != count:
@@ -122,3 +134,15 @@ def check_size(many, limit):
     """TooLarge if there are more than the limit."""
     if many > limit:
         raise TooLarge(limit)
+
+
+def check_not_last(count):
+    """LastPlace if there is only one place."""
+    if count == 1:
+        raise LastPlace("the only place cannot be taken away")
+
+
+def check_distances(table):
+    """NoTable unless each distance of what would be a table is from 0 to 10 ** 30."""
+    if not all([makes_distance(distance) for row in table for distance in row]):
+        raise NoTable("a distance must be from 0 to 10 ** 30")

@@ -36,6 +36,11 @@ def makes_place(count, value):
     return is_integer(value) and 0 <= value < count
 
 
+def makes_distance(value):
+    """Whether a value is an integer from 0 to the greatest distance."""
+    return is_integer(value) and 0 <= value <= LARGEST
+
+
 def makes_row(count, value):
     """Whether a value is a list with an integer from 0 to the greatest distance for each of so many places."""
     return is_integer_list(value) and len(value) == count and min(value) >= 0 and max(value) <= LARGEST

@@ -3,6 +3,7 @@
 import doctest
 import unittest
 
+from skipstops.errors import RingError
 from tests.tools import FIVE, RING, SPLIT
 
 EXAMPLES = {
@@ -60,17 +61,69 @@ EXAMPLES = {
 >>> [grown([[0, 4], [4, 0]], [1, 2]), shrunk(five, 1)[0], ring_without([0, 3, 1, 2], 1)]
 [[[0, 4, 1], [4, 0, 2], [1, 2, 0]], [0, 5, 4, 2], [0, 2, 1]]
 """,
+    "[23]": r"""
+>>> from skipstops.sources import crossing_cuts, ring_table, tree_table, walk_ring
+>>> roads = [(0, 1, 2), (1, 2, 3), (3, 1, 4)]
+>>> [tree_table(4, roads)[2], walk_ring(4, roads), ring_table([1, 2, 3, 4])[0], crossing_cuts(five, ring), crossing_cuts(tree_table(4, roads), [0, 1, 2, 3])]
+[[5, 3, 0, 7], [0, 1, 2, 3], [0, 1, 3, 4], ((1, 2), (2, 3)), None]
+""",
+    "[24] [25]": r"""
+>>> from skipstops.live import LiveRing, ShortRing, SkipRing
+>>> live = LiveRing(five, ring)
+>>> [live.is_skip, live.length, live.change(2, 3, 8), live.length, live.undo(), live.add([2, 3, 5, 4, 2], 4), live.ring, len(live)]
+[True, 16, False, 21, True, True, [0, 1, 2, 3, 4, 5], 6]
+>>> [live.drop(1), live.ring, live.table[0], live.tried(("turn", [0, 2, 1, 3, 4]), ("change", 0, 1, 9)), live.log, live.described()]
+[True, [0, 1, 2, 3, 4], [0, 5, 4, 2, 2], [True, False], ['add', 'drop'], ['places 5', 'length 16', 'skip']]
+>>> SkipRing(five, ring).turn([0, 2, 1, 3, 4])
+raises NotSkip
+>>> ShortRing(five, ring, 20).change(2, 3, 8)
+raises TooLong(size=21)
+""",
+    "[26]": r"""
+>>> from skipstops.texts import read_ring, read_shares, read_table, show_ring, show_shares, show_table
+>>> [show_table([[0, 3, 5], [3, 0, 4], [5, 4, 0]]), read_table("3\n5 4"), read_table(""), show_ring([0, 2, 1]), read_ring(3, "0-2-1")]
+['3\n5 4', [[0, 3, 5], [3, 0, 4], [5, 4, 0]], [[0]], '0-2-1', [0, 2, 1]]
+>>> [show_shares([(0, 1), (7, 2), (6, 4), (4, 2)]), read_shares(2, "0 7/2")]
+['0 7/2 3/2 2', [(0, 1), (7, 2)]]
+>>> read_table("3\n5 04")
+raises InvalidText(number=1)
+""",
+    "[27]": r"""
+>>> from skipstops.console import Console
+>>> console = Console()
+>>> [console.execute(one) for one in ["table 3; 5 4; 4 5 3; 2 3 5 4", "length", "cuts", "rings", "find", "around 3,0,2", "far 0,1,2,3", "cheapest 3"]]
+['skip', '16', '1,2:2 2,3:4', '2', '0-1-2-3-4', '12', '10', '0,1,4']
+>>> [console.execute(one) for one in ["shares 0", "slack 2 3", "turn 0-2-1-3-4", "undo", "change 2 3 8", "show", "ring"]]
+['0 7/2 11/2 9/2 5/2', '0 7', 'bar', 'skip', 'bar', '3; 5 4; 4 5 8; 2 3 5 4', '0-1-2-3-4']
+""",
 }
+
+
+def told(error):
+    """An error as the document tells it."""
+    fields = ", ".join(f"{name}={value!r}" for name, value in vars(error).items())
+    return f"raises {type(error).__name__}({fields})" if fields else f"raises {type(error).__name__}"
 
 
 class Examples(unittest.TestCase):
     def check(self, point):
         names = {"five": FIVE, "split": SPLIT, "ring": RING}
-        example = doctest.DocTestParser().get_doctest(EXAMPLES[point], names, point, None, None)
-        told = []
-        results = doctest.DocTestRunner().run(example, out=told.append)
-        self.assertEqual(results.failed, 0, "".join(told))
-        self.assertGreater(results.attempted, 1)
+        examples = doctest.DocTestParser().get_examples(EXAMPLES[point])
+        wanted = [example.want.strip() for example in examples]
+        self.assertGreater(len([want for want in wanted if want]), 0)
+        for example, want in zip(examples, wanted):
+            with self.subTest(example.source):
+                self.assertEqual(self.answer(example.source, bool(want), names), want)
+
+    def answer(self, source, is_told, names):
+        """What an example answers, "" if nothing is told of it."""
+        if not is_told:
+            exec(source, names)
+            return ""
+        try:
+            return repr(eval(source, names))
+        except RingError as error:
+            return told(error)
 
     def test_rings(self):
         self.check("[16]")
@@ -92,6 +145,18 @@ class Examples(unittest.TestCase):
 
     def test_changes(self):
         self.check("[22]")
+
+    def test_sources(self):
+        self.check("[23]")
+
+    def test_live(self):
+        self.check("[24] [25]")
+
+    def test_texts(self):
+        self.check("[26]")
+
+    def test_console(self):
+        self.check("[27]")
 
 
 if __name__ == "__main__":

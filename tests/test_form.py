@@ -16,9 +16,24 @@ INTERFACE = {
     "choosing.py": ["cheapest_stops", "dearest_stops", "best_prizes", "most_stops", "adds"],
     "shares.py": ["costs", "fair_shares", "shares_by", "bending", "pays_beyond", "limits", "even_steps"],
     "changes.py": ["slack", "grown", "shrunk", "ring_without", "new_spots", "left_out"],
+    "sources.py": ["tree_table", "walk_ring", "ring_table", "crossing_cuts"],
+    "live.py": ["LiveRing", "SkipRing", "ShortRing", "ShortSkipRing"],
+    "texts.py": ["show_table", "show_ring", "show_shares", "read_table", "read_ring", "read_shares"],
+    "console.py": ["Console"],
+}
+# For each class what its own body defines, not that of a base class.
+METHODS = {
+    ("live.py", "LiveRing"): ["__init__", "change", "add", "drop", "turn", "undo", "tried", "table", "ring", "is_skip", "length",
+                              "log", "__len__", "described", "twin", "__eq__"],
+    ("live.py", "SkipRing"): ["__init__", "twin"],
+    ("live.py", "ShortRing"): ["__init__", "most", "described", "twin"],
+    ("live.py", "ShortSkipRing"): ["__init__", "most", "described", "twin"],
+    ("console.py", "Console"): ["__init__", "execute"],
 }
 LIBRARY = {"math": ["factorial", "gcd", "lcm"], "itertools": ["combinations"]}
-BARRED = (ast.AsyncFunctionDef, ast.Global, ast.Import, ast.Set, ast.Div, ast.AnnAssign)
+# Beside classes with == and len, any, all, sum and the like take lists, and nothing is sorted in place.
+BARRED = (ast.AsyncFunctionDef, ast.Global, ast.Import, ast.Set, ast.Div, ast.AnnAssign, ast.GeneratorExp, ast.Match)
+BARRED_METHODS = ("sort", "discard", "format")
 
 
 def tree_of(path):
@@ -30,6 +45,31 @@ class Form(unittest.TestCase):
         for name, wanted in INTERFACE.items():
             defined = [node.name for node in tree_of(PACKAGE / name).body if hasattr(node, "name")]
             self.assertEqual([one for one in wanted if one not in defined], [])
+
+    def test_each_method_is_defined_in_its_class(self):
+        for (name, told), wanted in METHODS.items():
+            bodies = [node.body for node in tree_of(PACKAGE / name).body if getattr(node, "name", None) == told]
+            defined = [node.name for body in bodies for node in body if isinstance(node, ast.FunctionDef)]
+            with self.subTest(told):
+                self.assertEqual([one for one in wanted if defined.count(one) != 1], [])
+
+    def test_barred_methods(self):
+        for path in FILES:
+            for node in ast.walk(tree_of(path)):
+                if isinstance(node, ast.Attribute):
+                    with self.subTest(path.name):
+                        self.assertNotIn(node.attr, BARRED_METHODS)
+
+    def test_names_of_attributes_are_not_those_of_properties(self):
+        properties, stored = set(), set()
+        for path in FILES:
+            for node in ast.walk(tree_of(path)):
+                if isinstance(node, ast.FunctionDef) and node.decorator_list:
+                    properties.add(node.name)
+                if isinstance(node, ast.Attribute) and isinstance(node.ctx, ast.Store):
+                    stored.add(node.attr)
+        self.assertEqual(properties, {"table", "ring", "is_skip", "length", "log", "most"})
+        self.assertEqual(properties & stored, set())
 
     def test_characters_and_sizes(self):
         self.assertTrue(FILES)

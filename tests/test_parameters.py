@@ -3,7 +3,7 @@
 import inspect
 import unittest
 
-from skipstops import amounts, changes, choosing, errors, far, finding, rings, shares
+from skipstops import amounts, changes, choosing, console, errors, far, finding, live, rings, shares, sources, texts
 from tests.tools import FIVE, GREATEST, RING, SPLIT, zeros
 
 NO_LISTS = [None, True, False, 0, 1, -1, "", "01234", b"01234", (), {}, {0: 0}, set(), object()]
@@ -47,6 +47,17 @@ WRONG["shares"] = NO_LISTS + [[], [(0, 1)] * 5, [(4, 1), (4, 1), (0, 1), (4, 1),
 WRONG["free ring"] = [value for value in WRONG["ring"] if value not in ([0, 1, 2, 3], [0, 1, 2, 3, 4, 5])]
 WRONG["free ring"] += [list(range(31)), [1, 2, 3], [0, 2]]
 WRONG["other_ring"] = WRONG["ring"]
+ROADS = [(0, 3, 1), (3, 1, 2), (4, 0, 0), (2, 4, 7)]
+WRONG["roads"] = NO_LISTS + [[], ROADS[:3], ROADS + [(0, 1, 1)], tuple(ROADS), ROADS[:3] + [(0, 1, 1)], ROADS[:3] + [(2, 2, 1)],
+                             ROADS[:3] + [(2, 5, 1)], ROADS[:3] + [(2, 4, True)], ROADS[:3] + [(2, True, 1)],
+                             ROADS[:3] + [(2, 4, BEYOND)], ROADS[:3] + [(2, 4, -1)], ROADS[:3] + [[2, 4, 7]], ROADS[:3] + [None]]
+WRONG["lengths"] = NO_LISTS + [[], [1, 2], [1] * 31, (1, 2, 3), [1, 2, -3], [1, 2, True], [1, 2, None], [1, 2, BEYOND], ["1"] * 3]
+WRONG["shown shares"] = NO_LISTS + [[], [(0, 1)] * 31, [(-1, 1)], [(1, 0)], [(1, True)], [(False, 1)], [[1, 1]], [(1,)], [None]]
+NO_TEXTS = [None, True, False, 0, 1, b"", b"0", [], ["0"], (), ("0",), {}, set(), object()]
+WRONG["table text"] = NO_TEXTS + ["x", "-1", "1\n", "1 2", "01", str(BEYOND), "1" * 61]
+WRONG["ring text"] = NO_TEXTS + ["", "0", "0-1-2-3", "0-1-2-3-3", "0-1-2-3-04", "0 1 2 3 4", "0-1-2-3-x"]
+WRONG["shares text"] = NO_TEXTS + ["", "0", "0 1 2 3", "0 1 2 3 4 5", "0 1 2 3 4/2", "0 1 2 3 -4", "0 1 2 3 x", "0  1 2 3 4"]
+WRONG["the most"] = WRONG["length"]
 ERRORS = {
     "count": errors.InvalidCount, "table": errors.InvalidTable, "tables": errors.InvalidTables,
     "ring": errors.InvalidRing, "free ring": errors.InvalidRing, "other_ring": errors.InvalidRing,
@@ -56,6 +67,9 @@ ERRORS = {
     "many": errors.InvalidNumber, "length": errors.InvalidNumber, "prizes": errors.InvalidPrizes,
     "row": errors.InvalidRow, "group": errors.InvalidStops, "sequence": errors.InvalidSequence,
     "shares": errors.InvalidShares, "even stops": errors.InvalidStops, "odd stops": errors.InvalidStops,
+    "roads": errors.InvalidRoads, "lengths": errors.InvalidLengths, "shown shares": errors.InvalidShares,
+    "table text": errors.InvalidText, "ring text": errors.InvalidText, "shares text": errors.InvalidText,
+    "the most": errors.InvalidNumber,
 }
 WRONG["even stops"] = WRONG["odd stops"] = WRONG["stops"]
 GOOD = {
@@ -64,6 +78,8 @@ GOOD = {
     "place": 2, "one": 3, "other": 0, "depot": 2, "many": 3, "length": 11, "prizes": [9, 0, 0, 9, 9],
     "row": [2, 3, 5, 4, 2], "group": [4, 1], "sequence": [4, 0, 1, 3],
     "shares": [(4, 1), (8, 2), (0, 5), (7, 2), (9, 2)], "even stops": [3, 0], "odd stops": [3, 0, 2],
+    "roads": ROADS, "lengths": [4, 0, 5], "shown shares": [(6, 4), (0, 2)], "table text": "3\n5 4", "ring text": "0-2-1-3-4",
+    "shares text": "0 3/2 4 1/9 7", "the most": 20,
 }
 FUNCTIONS = [
     (rings.is_table, ["value"]),
@@ -116,12 +132,29 @@ FUNCTIONS = [
     (changes.ring_without, ["free ring", "place"]),
     (changes.new_spots, ["table", "ring", "row"]),
     (changes.left_out, ["table", "ring"]),
+    (sources.tree_table, ["count", "roads"]),
+    (sources.walk_ring, ["count", "roads"]),
+    (sources.ring_table, ["lengths"]),
+    (sources.crossing_cuts, ["table", "ring"]),
+    (live.LiveRing, ["table", "ring"]),
+    (live.SkipRing, ["table", "ring"]),
+    (live.ShortRing, ["table", "ring", "the most"]),
+    (live.ShortSkipRing, ["table", "ring", "the most"]),
+    (texts.show_table, ["table"]),
+    (texts.show_ring, ["free ring"]),
+    (texts.show_shares, ["shown shares"]),
+    (texts.read_table, ["table text"]),
+    (texts.read_ring, ["count", "ring text"]),
+    (texts.read_shares, ["count", "shares text"]),
 ]
+# For each method of a live ring with parameters what they are.
+METHODS = {"change": ["one", "other", "distance"], "add": ["row", "index"], "drop": ["place"], "turn": ["ring"]}
 # Those that want a skip ring.
 SKIPS = [far.greatest_sum, far.least_sum, far.longest_length, far.shows_far, choosing.cheapest_stops,
          choosing.dearest_stops, choosing.best_prizes, choosing.most_stops, choosing.adds, shares.costs,
          shares.fair_shares, shares.shares_by, shares.bending, shares.pays_beyond, shares.limits, shares.even_steps,
-         changes.slack, changes.new_spots, amounts.heavy_cuts, finding.skip_index]
+         changes.slack, changes.new_spots, amounts.heavy_cuts, finding.skip_index, sources.crossing_cuts, live.SkipRing,
+         live.ShortSkipRing]
 NO_SKIP = [0, 2, 1, 3, 4]
 
 
@@ -144,6 +177,20 @@ class Parameters(unittest.TestCase):
                 by_position = function(*[GOOD[kind] for kind in kinds])
                 by_name = function(**{plain_name(kind): GOOD[kind] for kind in reversed(kinds)})
                 self.assertEqual(by_position, by_name)
+
+    def test_methods(self):
+        for kind, more in ((live.LiveRing, []), (live.SkipRing, []), (live.ShortRing, [99]), (live.ShortSkipRing, [99])):
+            for name, kinds in METHODS.items():
+                by_position, by_name = kind(FIVE, RING, *more), kind(FIVE, RING, *more)
+                given = {**GOOD, "distance": 4, "index": 4}
+                self.assertEqual(list(inspect.signature(getattr(by_name, name)).parameters), kinds)
+                self.assertIs(getattr(by_position, name)(*[given[one] for one in kinds]), True)
+                self.assertIs(getattr(by_name, name)(**{one: given[one] for one in reversed(kinds)}), True)
+                self.assertEqual(by_position, by_name)
+            tried = inspect.signature(kind(FIVE, RING, *more).tried).parameters
+            self.assertEqual([str(one) for one in tried.values()], ["*changes"])
+        self.assertEqual(list(inspect.signature(console.Console().execute).parameters), ["command"])
+        self.assertEqual(list(inspect.signature(console.Console).parameters), [])
 
     def test_each_wrong_parameter_alone(self):
         for function, kinds in FUNCTIONS:

@@ -3,7 +3,7 @@
 import copy
 import unittest
 
-from skipstops import amounts, changes, choosing, far, finding, rings, shares
+from skipstops import amounts, changes, choosing, far, finding, live, rings, shares, sources, texts
 from tests.tools import FIVE, RING, SPLIT, exact, lists_in, zeros
 
 ZEROS_IN_ONE_LIST = [[0] * 5] * 5
@@ -85,6 +85,19 @@ CALLS = [
     (changes.new_spots, [FIVE, [3, 4, 0, 1, 2], [2, 3, 5, 4, 2]]),
     (changes.left_out, [FIVE, [3, 4, 0, 2, 1]]),
     (changes.left_out, [FIVE, RING]),
+    (sources.tree_table, [5, [(3, 1, 2), (1, 0, 4), (4, 3, 0), (2, 0, 7)]]),
+    (sources.tree_table, [1, []]),
+    (sources.walk_ring, [5, [(3, 1, 2), (1, 0, 4), (4, 3, 0), (2, 0, 7)]]),
+    (sources.walk_ring, [1, []]),
+    (sources.ring_table, [[3, 4, 0, 1, 2]]),
+    (sources.crossing_cuts, [FIVE, [3, 4, 0, 1, 2]]),
+    (texts.show_table, [FIVE]),
+    (texts.show_ring, [[3, 4, 0, 1, 2]]),
+    (texts.show_shares, [[(6, 4), (0, 2), (5, 1)]]),
+    (texts.read_table, ["3\n5 4"]),
+    (texts.read_table, [""]),
+    (texts.read_ring, [5, "3-4-0-1-2"]),
+    (texts.read_shares, [3, "3/2 0 5"]),
 ]
 FAILING = [
     (amounts.heavy_cuts, [FIVE, [0, 2, 1, 3, 4]]),
@@ -108,6 +121,15 @@ FAILING = [
     (changes.shrunk, [[[0]], 0]),
     (changes.ring_without, [[0], 0]),
     (changes.left_out, [zeros(11), [*range(10, -1, -1)]]),
+    (sources.tree_table, [3, [(2, 1, 10 ** 30), (1, 0, 1)]]),
+    (sources.tree_table, [4, [(2, 1, 1), (1, 0, 1), (2, 0, 1)]]),
+    (sources.walk_ring, [4, [(2, 1, 1), (1, 0, 1), (2, 0, 1)]]),
+    (sources.ring_table, [[10 ** 30] * 4]),
+    (sources.crossing_cuts, [FIVE, [0, 2, 1, 3, 4]]),
+    (texts.show_shares, [[(6, 4), (-1, 2), (5, 1)]]),
+    (live.SkipRing, [FIVE, [0, 2, 1, 3, 4]]),
+    (live.ShortRing, [FIVE, [3, 4, 0, 1, 2], 15]),
+    (live.ShortSkipRing, [FIVE, [3, 4, 0, 1, 2], 15]),
 ]
 
 
@@ -182,6 +204,23 @@ class Values(unittest.TestCase):
         self.assertEqual([told[0], told[1][0][0], told[1][1]], ["tuple", "list", ("tuple", [("int", 2), ("int", 1)])])
         for truth in (far.shows_far(FIVE, RING, [0], [0]), far.shows_far(FIVE, RING, [0, 1], [(0, 1)])):
             self.assertIs(truth, True)
+
+    def test_kinds_of_what_is_told(self):
+        self.assertEqual(exact(sources.crossing_cuts(FIVE, RING))[1][0], ("tuple", [("int", 1), ("int", 2)]))
+        self.assertEqual(exact(sources.ring_table([0, 1, 1]))[1][0], ("list", [("int", 0), ("int", 0), ("int", 1)]))
+        self.assertEqual(exact(texts.read_shares(2, "0 7/2"))[1][0], ("tuple", [("int", 0), ("int", 1)]))
+        self.assertEqual(exact(texts.read_ring(1, "0")), ("list", [("int", 0)]))
+        self.assertEqual(exact(texts.show_ring([0])), ("str", "0"))
+
+    def test_integers_of_other_classes(self):
+        class Whole(int):
+            pass
+
+        zero, one, two = Whole(0), Whole(1), Whole(2)
+        self.assertEqual(sources.tree_table(two, [(zero, one, two)]), [[0, 2], [2, 0]])
+        self.assertEqual(texts.show_shares([(one, two), (two, one)]), "1/2 2")
+        kept = live.LiveRing([[0, two], [two, 0]], [one, zero])
+        self.assertEqual([kept.change(zero, one, one), kept.length], [True, 2])
 
     def test_values_that_were_returned_may_be_passed_back(self):
         great = amounts.place_amounts([[0, 10 ** 30, 10 ** 30], [10 ** 30, 0, 0], [10 ** 30, 0, 0]], [0, 1, 2])

@@ -205,3 +205,75 @@ def lists_in(value):
     for item in value:
         found += lists_in(item)
     return found
+
+
+def crossing_by_words(cut, other_cut, count):
+    """Whether each side of one cut has a place in common with each side of another one."""
+    sides = [(set(one), set(range(count)) - set(one)) for one in (cut, other_cut)]
+    return all(side & other for side in sides[0] for other in sides[1])
+
+
+def drawn_tree(numbers, count, limit):
+    """The roads of a tree with mixed numbers of its places, in a mixed sequence and mixed directions."""
+    places = numbers.mixed(range(count))
+    roads = []
+    for at in range(1, count):
+        ends = numbers.mixed([places[at], places[numbers.below(at)]])
+        roads.append((ends[0], ends[1], numbers.below(limit)))
+    return numbers.mixed(roads)
+
+
+def tree_by_words(count, roads):
+    """The lengths of the ways along the roads, each gone from its begin."""
+    def go(place, came_from, length, lengths):
+        lengths[place] = length
+        for one, other, more in roads:
+            for there, here in ((one, other), (other, one)):
+                if here == place and there != came_from:
+                    go(there, place, length + more, lengths)
+
+    table = []
+    for place in range(count):
+        lengths = [None] * count
+        go(place, None, 0, lengths)
+        table.append(lengths)
+    return table
+
+
+def walk_by_words(count, roads):
+    """The places of a tree as a walk meets them that turns to the least neighbour, or goes back."""
+    met = [0]
+    way = [0]
+    while way:
+        near = [other for one, other, _ in roads if one == way[-1]] + [one for one, other, _ in roads if other == way[-1]]
+        new = [place for place in near if place not in met]
+        if new:
+            met.append(min(new))
+            way.append(min(new))
+        else:
+            way.pop()
+    return met
+
+
+def ring_road_by_words(lengths):
+    """The distances on a ring road, gone piece by piece in both directions."""
+    count = len(lengths)
+    table = zeros(count)
+    for one in range(count):
+        for other in range(count):
+            forth = back = 0
+            place = one
+            while place != other:
+                forth += lengths[place]
+                place = (place + 1) % count
+            place = one
+            while place != other:
+                place = (place - 1) % count
+                back += lengths[place]
+            table[one][other] = min(forth, back)
+    return table
+
+
+def lines_of(table):
+    """The lines of the text of a table."""
+    return [" ".join(f"{distance}" for distance in table[place][:place]) for place in range(1, len(table))]
